@@ -4,6 +4,9 @@ import itertools
 import random
 import string
 
+from besidealone.likeness import likeness
+from besidealone.tables import is_level, is_passable
+
 POWERS = ("again", "catch", "keep", "same")
 MODES = (("crosses", "stops"), ("live", "tabled"), ("let", "barred"), ("kept", "fresh"))
 
@@ -171,3 +174,192 @@ def partner(seed, own, faces):
     main = writer.body(None, faces[0], "main")
     called = faces[0] if "again" in own[2] else ()
     return tuple(writer.cells), main, tuple([writer.body(face, called, "body") for face in faces[1]])
+
+
+class Lively(Writer):
+    """Writes programs that call, ask and hand over a lot: there is a variable of each KIND, and two of things."""
+
+    def begin(self, face):
+        self.variables = {"v" + str(kind)[:8]: kind for kind in self.kinds[:-1]}
+        self.variables.update({"tone": "thing", "ttwo": "thing"})
+        if face:
+            self.variables["given"] = face[1]
+        # Those of things that surely have one.
+        self.sure = {name for name, kind in self.variables.items() if (name, kind) == ("given", "thing")}
+
+    def thing(self):
+        names = sorted(self.sure) or ["tone"]
+        cells = [("cell", row[0]) for row in self.cells if row[1] == "thing" and self.source.random() < 0.3]
+        return self.source.choice([("name", name) for name in names] + cells)
+
+    def expression(self, kind, deep=2):
+        if kind == "thing":
+            return self.thing()
+        if kind == "truth" and "same" in self.side[2] and self.sure:
+            if self.source.random() < 0.4:
+                return "same", self.thing(), self.thing()
+        return super().expression(kind, deep)
+
+    def target(self, kind):
+        return self.source.choice([name for name, own in sorted(self.variables.items()) if own == kind])
+
+    def call(self, called):
+        """A call, () if there is nothing to call."""
+        rows = [row for row in called if row[1] != "thing" or self.sure or self.source.random() < 0.1]
+        if not rows:
+            return ()
+        name, takes, answers = self.source.choice(rows)
+        argument = self.expression(takes)
+        target = self.target(answers)
+        if answers == "thing":
+            self.sure.add(target)
+        row = ("call", target, name, argument)
+        if "catch" in self.side[2] and self.source.random() < 0.5:
+            if answers == "thing" and target != "given":
+                self.sure.discard(target)
+            return ("try", (row,), self.target("word"), ())
+        return row
+
+    def small(self, called, answers, place):
+        """A STATEMENT without blocks, () if there is none."""
+        source = self.source
+        head = source.choice(["call"] * 6 + ["let", "put", "put"] + (["make", "make", "look"] if place == "part" else []))
+        if head == "call":
+            return self.call(called)
+        if head == "put":
+            row = source.choice(self.cells or [()])
+            return row and ("put", row[0], self.expression(row[1]))
+        if head == "make":
+            target = self.target("thing")
+            row = ("make", target, self.expression(source.choice(self.kinds[:-1])))
+            self.sure.add(target)
+            return row
+        name = source.choice(sorted(self.variables))
+        kind = self.variables[name]
+        if head == "look":
+            return ("look", self.target("truth"), self.thing()) if self.sure else ()
+        if kind == "thing":
+            return ()
+        return ("let", name, self.expression(kind))
+
+    def row(self, called, answers, place, many):
+        return tuple([one for one in [self.small(called, answers, place) for _ in range(many)] if one])
+
+    def last_one(self, answers, place):
+        """What a body ends with."""
+        source = self.source
+        if place == "main":
+            return ("if", self.expression("truth"), (("say", "yes"),), ((("say", "no"),) if source.random() < 0.5 else ()))
+        if source.random() < 0.15:
+            return "fail", self.expression("word")
+        if answers == "thing" and not self.sure and place == "part":
+            return "make", "tone", self.expression("truth")
+        return "answer", self.expression(answers)
+
+    def body(self, face, called, place):
+        self.begin(face)
+        source = self.source
+        answers = face[2] if face else None
+        rows = list(self.row(called, answers, place, source.randint(0, 4)))
+        if source.random() < 0.5:
+            sure = set(self.sure)
+            blocks = []
+            for _ in range(2):
+                self.sure = set(sure)
+                block = self.row(called, answers, place, source.randint(0, 2))
+                if source.random() < 0.3:
+                    block += (self.last_one(answers, place),)
+                blocks.append(block)
+            self.sure = sure
+            head = source.choice(["if", "if", "while"])
+            rows.append(("if", self.expression("truth"), *blocks) if head == "if" else
+                        ("while", self.expression("truth"), blocks[0]))
+        rows += list(self.row(called, answers, place, source.randint(0, 2)))
+        if source.random() < 0.93:
+            rows.append(self.last_one(answers, place))
+            if rows[-1][0] == "make":
+                rows.append(("answer", ("name", "tone")))
+        return tuple(sorted(self.variables.items())), tuple(rows)
+
+
+def lively_part(seed, own, faces, sort="part"):
+    """A PART; no same stands in it if the sort is plain."""
+    if sort == "plain":
+        own = own[:2] + (tuple([power for power in own[2] if power != "same"]),)
+    writer = Lively(seed, own, faces, "part")
+    return tuple(writer.cells), tuple([writer.body(face, faces[1], "part") for face in faces[0]])
+
+
+def lively_partner(seed, own, faces):
+    """A PARTNER."""
+    writer = Lively(seed, own, faces, "partner")
+    main = writer.body(None, faces[0], "main")
+    called = faces[0] if "again" in own[2] else ()
+    return tuple(writer.cells), main, tuple([writer.body(face, called, "body") for face in faces[1]])
+
+
+def level_table(seed, left, right, exports=2, imports=2):
+    """A TABLE that is PASSABLE and LEVEL."""
+    at = seed * 1000
+    while True:
+        found = table(at, left, right, exports, imports)
+        if is_passable(found) and is_level(left, right, found):
+            return found
+        at += 1
+
+
+def raw_places(thing, path=()):
+    """The paths to all EXPRESSIONS ("raw", kind, raw) within a program."""
+    if isinstance(thing, tuple):
+        if thing[:1] == ("raw",) and len(thing) == 3:
+            yield path
+        else:
+            for at, item in enumerate(thing):
+                yield from raw_places(item, path + (at,))
+
+
+def exchanged(thing, path, new):
+    """The value with another one at a path."""
+    if not path:
+        return new
+    return thing[:path[0]] + (exchanged(thing[path[0]], path[1:], new),) + thing[path[0] + 1:]
+
+
+def at_path(thing, path):
+    for step in path:
+        thing = thing[step]
+    return thing
+
+
+def block_places(thing, path=()):
+    """The paths to all STATEMENTS within a program that are no block's only one."""
+    heads = ("let", "put", "call", "if", "while", "try", "make", "look", "fail", "answer")
+    if isinstance(thing, tuple):
+        if thing[:1] and thing[0] in heads and len(thing) > 1:
+            yield path
+        for at, item in enumerate(thing):
+            yield from block_places(item, path + (at,))
+
+
+def varied(seed, own, program):
+    """A program like another one, but for one thing, or for nothing that anybody can tell."""
+    source = random.Random(seed)
+    lots = dict(likeness(own))
+    way = source.random()
+    places = list(raw_places(program))
+    if way < 0.6 and places:
+        path = source.choice(places)
+        _, kind, raw = at_path(program, path)
+        lot = [lot for lot in lots[kind] if raw in lot][0]
+        new = source.choice(lot if source.random() < 0.7 else dict(own[0])[kind])
+        return exchanged(program, path, ("raw", kind, new))
+    places = list(block_places(program))
+    if way < 0.8 and places:
+        path = source.choice(places)
+        block = at_path(program, path[:-1])
+        return exchanged(program, path[:-1], block[:path[-1]] + block[path[-1] + 1:])
+    if places:
+        path = source.choice(places)
+        block = at_path(program, path[:-1])
+        return exchanged(program, path[:-1], block[:path[-1]] + (block[path[-1]],) + block[path[-1]:])
+    return program

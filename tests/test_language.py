@@ -16,6 +16,8 @@ METHODS = set("""append clear copy count endswith extend find get index insert i
 isupper items join keys ljust lower lstrip partition pop remove replace reverse rfind rjust rpartition rsplit rstrip
 setdefault split splitlines startswith strip update upper values zfill bit_length add discard sort""".split())
 BARRED = (ast.Import, ast.Global, ast.AsyncFunctionDef, ast.AsyncFor, ast.AsyncWith, ast.Await, ast.Div, ast.MatMult)
+# A session of doctest leaves the sign "_" among the builtins.
+KNOWN = set(dir(builtins)) - {"_"}
 FILES = sorted([name for name in os.listdir(FOLDER) if name != "__pycache__"])
 
 
@@ -49,8 +51,11 @@ class Language(unittest.TestCase):
 
     def test_functions(self):
         for name in FILES:
+            within = {own for node in ast.walk(tree_of(name)) if isinstance(node, ast.FunctionDef)
+                      for own in [(inner.lineno, inner.name) for inner in ast.walk(node) if inner is not node
+                                  and isinstance(inner, ast.FunctionDef)]}
             for node in ast.walk(tree_of(name)):
-                if isinstance(node, (ast.FunctionDef, ast.ClassDef)):
+                if isinstance(node, (ast.FunctionDef, ast.ClassDef)) and (node.lineno, node.name) not in within:
                     self.assertTrue(ast.get_docstring(node) or node.name == "__init__", (name, node.name))
                 if isinstance(node, ast.FunctionDef):
                     self.assertLessEqual(node.end_lineno - node.lineno + 1, 40, (name, node.name))
@@ -88,17 +93,17 @@ class Language(unittest.TestCase):
             top = self.defined(tree)
             self.assertEqual(len(top), len(set(top)))
             self.assertFalse(set(top) & imported)
-            self.assertFalse(set(top) & set(dir(builtins)))
+            self.assertFalse(set(top) & KNOWN)
             classes = {node.name for node in tree.body if isinstance(node, ast.ClassDef)}
             for node in ast.walk(tree):
                 if isinstance(node, ast.FunctionDef):
-                    self.assertFalse(bound_in(node) & (imported | classes | set(dir(builtins))), (name, node.name))
+                    self.assertFalse(bound_in(node) & (imported | classes | KNOWN), (name, node.name))
 
     def test_builtins_and_methods(self):
         own = {node.name for name in FILES for node in ast.walk(tree_of(name)) if isinstance(node, ast.FunctionDef)}
         for name in FILES:
             for node in ast.walk(tree_of(name)):
-                if isinstance(node, ast.Name) and node.id in dir(builtins):
+                if isinstance(node, ast.Name) and node.id in KNOWN:
                     self.assertIn(node.id, BUILTINS, (name, node.lineno))
                 if isinstance(node, ast.Call) and isinstance(node.func, ast.Attribute):
                     self.assertIn(node.func.attr, METHODS | own, (name, node.lineno))
