@@ -6,8 +6,8 @@ from besidealone.tables import faces
 from besidealone.telling import choice, filled
 
 NO = ("raw", "truth", "no")
-# The thing that a PART makes.
-MADE = (("make", "t", NO), ("answer", ("name", "t")))
+# It makes a thing and answers it.
+MADE = (("make", "t", ("raw", "truth", "no")), ("answer", ("name", "t")))
 
 
 def part_of(table, cells, asked, bodies):

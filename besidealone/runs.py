@@ -106,9 +106,14 @@ class Run:
         else:
             self.fail_export(event[1])
 
+    def forget(self):
+        """Has the body that is run, and calls, forget what its whiles asked."""
+        frame = self.frames[-1]
+        frame.been = {}
+
     def call_export(self, face, value):
         """Has the partner call an export."""
-        self.frames[-1].been = {}
+        self.forget()
         self.seen.append(("call", face, value))
         is_inner = len(self.frames) == 3
         if self.exports[face][0] == "thing":
@@ -166,7 +171,7 @@ class Run:
 
     def call_import(self, face, raw):
         """Has the part call an import."""
-        self.frames[-1].been = {}
+        self.forget()
         if len(self.frames) == 4:
             if not catch(self.frames[-1], self.inner):
                 self.fail_export(self.inner)

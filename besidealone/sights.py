@@ -29,6 +29,20 @@ class Sight:
         self.may_wait = is_live or failing == "stops"
         # Whether it can tell that a thing came once more.
         self.tells_things = has(side, "same") and (is_alone or handles == "kept") and twice(left, table)
+        # For each WORD what is SEEN of a FAIL by it, and the WORD by which an import FAILS if an INNER call does so by
+        # this one and nobody catches it.
+        self.word_signs = {}
+        self.back = {}
+        # For each export couples of what it is called with, and what is SEEN of each RAW that it answers.
+        self.calls = {}
+        self.answers = {}
+        # For each import what it is asked with on the side of the partner, and what is SEEN of this.
+        self.asked = {}
+        self.asks = {}
+        # For each import what a call of it may give, as lots of what is ALIKE: with both PARTS at once, and with one
+        # PART alone.
+        self.narrow = {}
+        self.broad = {}
         lots = dict(likeness(side))
         if is_alone:
             fill_alone(self, left, lots)
@@ -42,17 +56,12 @@ def fill_alone(sight, left, lots):
     """Puts into the Sight what a partner ALONE does and SEES, by the CLASSES of the left SIDE."""
     words = raws_of(left, "word")
     sight.word_signs = {word: lot_with(lots["word"], word) for word in words}
-    # The WORD by which an import FAILS if an INNER call does so by this one and nobody catches it.
     sight.back = {word: word for word in words}
     failing = [(("failed", word),) for word in words]
     broad_failing = [tuple([("failed", word) for word in lot]) for lot in lots["word"]]
-    sight.calls, sight.answers = {}, {}
     for name, takes, answers in sight.faces[0]:
         sight.calls[name] = [] if takes == "thing" else [(raw, raw) for raw in raws_of(left, takes)]
         sight.answers[name] = {} if answers == "thing" else signs(left, lots, answers)
-    # What is asked, on the side of the partner; its CLASS; what an import may do, as lots of ALIKE ones: such as
-    # a partner takes them with both PARTS at once, and broad ones, such as it takes them with one PART alone.
-    sight.asked, sight.asks, sight.narrow, sight.broad = {}, {}, {}, {}
     for name, takes, answers in sight.faces[1]:
         sight.asked[name] = {raw: raw for raw in raws_of(left, takes)}
         sight.asks[name] = signs(left, lots, takes)
@@ -73,11 +82,9 @@ def fill_beside(sight, left, right, table, lots):
     failing = []
     if table[3][0] == "crosses":
         failing = [tuple(sorted({("failed", into_word(right, table, word)) for word in lot})) for lot in lots["word"]]
-    sight.calls, sight.answers = {}, {}
     for name, into, back in table[0]:
         sight.calls[name] = [] if into == THING else couples_of([led_lot(right, into, lot) for lot in lots[into[0]]])
         sight.answers[name] = {} if back == THING else led_signs(left, back, lots)
-    sight.asked, sight.asks, sight.narrow, sight.broad = {}, {}, {}, {}
     for name, back, into in table[1]:
         sight.asked[name] = {raw: led(left, back, raw) for raw in raws_of(left, begin_of(back))}
         sight.asks[name] = led_signs(left, back, lots)

@@ -363,3 +363,93 @@ def varied(seed, own, program):
         block = at_path(program, path[:-1])
         return exchanged(program, path[:-1], block[:path[-1]] + (block[path[-1]],) + block[path[-1]:])
     return program
+
+
+class Aimed:
+    """Writes PARTNERS that try one row: what an import does depends on its turn, if the SIDE has KEEP, and its argument."""
+
+    def __init__(self, seed, own, faces):
+        self.source = random.Random(seed)
+        self.side, self.faces = own, faces
+        many = self.source.randint(2, 6) if "keep" in own[2] else 0
+        self.cells = tuple([("n" + letter, "truth", "no") for letter in string.ascii_lowercase[:many]])
+        self.names = {"v" + kind[:8]: kind for kind, _ in own[0]}
+        self.names["w"] = "word"
+
+    def raw(self, kind):
+        return "raw", kind, self.source.choice(dict(self.side[0])[kind])
+
+    def grown(self, expression, kind, deep):
+        """An EXPRESSION of truth made from another one, None if none was found."""
+        if kind == "truth" and (deep == 0 or self.source.random() < 0.7):
+            return expression
+        rows = [row for row in self.side[1] if kind in row[1]]
+        if not rows or not deep:
+            return None
+        name, takes, gives, _ = self.source.choice(rows)
+        place = self.source.choice([at for at, own in enumerate(takes) if own == kind])
+        parts = tuple([expression if at == place else self.raw(own) for at, own in enumerate(takes)])
+        return self.grown(("do", name, parts), gives, deep - 1)
+
+    def test(self, kind, name):
+        found = [self.grown(("name", name), kind, 3) for _ in range(5)]
+        return ([one for one in found if one] or [None])[0]
+
+    def saying(self, kind, name):
+        asked = self.test(kind, name)
+        if not asked or self.source.random() < 0.3:
+            return ()
+        said = (("say", self.source.choice(("yes", "no"))),)
+        return (("if", asked, said, ()) if self.source.random() < 0.5 else ("if", asked, (), said),)
+
+    def call(self):
+        name, takes, answers = self.source.choice(self.faces[0])
+        return answers, ("call", "v" + answers[:8], name, self.raw(takes))
+
+    def main(self):
+        rows = []
+        for _ in range(self.source.choice((1, 1, 2, 3))):
+            answers, row = self.call()
+            block = (row,) + self.saying(answers, row[1])
+            if "catch" in self.side[2] and self.source.random() < 0.7:
+                block = (("try", block, "w", self.saying("word", "w")),)
+            rows.extend(block)
+        return tuple(rows) + ((("say", "yes"),) if self.source.random() < 0.7 else ())
+
+    def action(self, answers, deep=2):
+        """What an import does at one turn."""
+        way = self.source.random()
+        if way < 0.15:
+            return (("fail", self.raw("word")),)
+        if way < 0.22:
+            return ()
+        if way < 0.5 and "again" in self.side[2] and deep:
+            got, row = self.call()
+            behind = self.action(answers, deep - 1)
+            asked = self.test(got, row[1])
+            if asked and self.source.random() < 0.5:
+                behind = (("if", asked, behind, self.action(answers, deep - 1)),)
+            if "catch" in self.side[2] and self.source.random() < 0.7:
+                return (("try", (row,), "w", self.action(answers, deep - 1)),) + behind
+            return (row,) + behind
+        return (("answer", self.raw(answers)),)
+
+    def turn(self, takes, answers, deep=2):
+        asked = self.test(takes, "given")
+        if asked and deep and self.source.random() < 0.6:
+            return (("if", asked, self.turn(takes, answers, deep - 1), self.turn(takes, answers, deep - 1)),)
+        return self.action(answers)
+
+    def body(self, takes, answers):
+        block = self.turn(takes, answers)
+        for name, _, _ in self.cells if self.source.random() < 0.8 else ():
+            done = ("put", name, ("raw", "truth", "yes"))
+            block = (("if", ("cell", name), block, (done,) + self.turn(takes, answers)),)
+        return tuple(sorted({**self.names, "given": takes}.items())), block
+
+
+def aimed_partner(seed, own, faces):
+    """A PARTNER that is likely to part PARTS which are not ALIKE; the FACES have no things."""
+    writer = Aimed(seed, own, faces)
+    main = tuple(sorted(writer.names.items())), writer.main()
+    return writer.cells, main, tuple([writer.body(takes, answers) for _, takes, answers in faces[1]])
