@@ -498,6 +498,57 @@ class Many(unittest.TestCase):
         self.assertEqual(paper(side, side, table, "alone", trying, mute), TRIVIAL)
 
 
+LETTERS = tuple("ijklmnop")
+WIDE = (tuple([(name, NUMWAY, NUMWAY) for name in "efgh"]), tuple([(name, NUMWAY, NUMWAY) for name in "xyz"]),
+        (LETTERS, LETTERS, "i", "i", "i"), MODES)
+
+
+class Bounds(unittest.TestCase):
+    """SIDES of KINDS of eight RAWS, four exports, three imports; BESIDE all RAWS are ALIKE, so each comes with each other one."""
+
+    def found(self, tells, powers, where, rows, cells=(), table=WIDE):
+        side = (NUM[:2] + (("word", LETTERS),), STEPS if tells else (), powers)
+        lines = list(cells)
+        for name, *_ in table[0]:
+            lines += ["body " + name] + (rows[name] if isinstance(rows, dict) else rows) + ["end"]
+        part = read_part(side[:2] + (make.POWERS,), faces(table), "\n".join(lines))
+        try:
+            found = paper(side, side, table, where, part, part)
+        except TooMany:
+            return "many"
+        self.assertIs(is_paper(side, side, table, where, part, part, found), True)
+        return len(found[0]), len(found[1])
+
+    def test_parts_with_cells(self):
+        cells = ["cell c num a", "cell d num a", "cell e num a"]
+        shift = ["var x num", "put e @d", "put d @c", "put c given"]
+        powers = ("again", "catch", "keep")
+        self.assertEqual(self.found(True, powers, "alone", shift + ["answer x"], cells), (512, 0))
+        self.assertEqual(self.found(False, powers, "alone", shift + ["answer x"], cells), (512, 0))
+        self.assertEqual(self.found(False, powers, "beside", shift[:1] + shift[3:] + ["answer x"], cells[:1]), (64, 0))
+        self.assertEqual(self.found(False, powers, "beside", shift + ["answer x"], cells), "many")
+        self.assertEqual(self.found(True, powers, "alone", shift + ["call x x given", "answer x"], cells), "many")
+        asks = ["var x num", "call x x num.a", "put c x", "answer num.a"]
+        self.assertEqual(self.found(True, ("keep",), "alone", asks, cells[:1]), (8, 0))
+        self.assertEqual(self.found(True, ("again", "keep"), "alone", asks, cells[:1]), (8, 0))
+
+    def test_parts_without_cells(self):
+        asks = ["var w word", "var x num", "try", "call x x given", "catch w", "answer num.b", "end", "answer x"]
+        for powers in ((), ("again", "catch"), ("again", "catch", "keep")):
+            self.assertEqual(self.found(True, powers, "alone", asks), (1, 0))
+            self.assertEqual(self.found(True, powers, "beside", asks), (1, 0))
+            self.assertEqual(self.found(False, powers, "beside", ["var x num", "call x x num.a", "answer x"]), (1, 0))
+
+    def test_things(self):
+        thing = ("thing",)
+        table = ((("e", NUMWAY, thing), ("f", thing, thing), ("g", thing, NUMWAY), ("h", thing, NUMWAY)),) + WIDE[1:]
+        rows = {"e": ["var t thing", "make t given", "answer t"], "f": ["answer given"], "g": ["var x num", "look x given", "answer x"],
+                "h": ["var x num", "call x x num.a", "look x given", "answer x"]}
+        for powers in ((), ("again", "catch"), ("again", "catch", "keep")):
+            self.assertEqual(self.found(True, powers, "alone", rows, (), table), (1, 8))
+            self.assertEqual(self.found(False, powers, "beside", rows, (), table), (1, 64))
+
+
 class Runs(unittest.TestCase):
     """Where there is a PAPER no partner parts both PARTS."""
 

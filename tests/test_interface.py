@@ -1,0 +1,57 @@
+"""The interface: each function is defined in its file, and takes these arguments."""
+
+import ast
+import importlib
+import inspect
+import os
+import unittest
+
+FOLDER = os.path.join(os.path.dirname(os.path.dirname(os.path.abspath(__file__))), "besidealone")
+TOLD = {
+    "forms": ["is_integer(thing)", "is_name(thing)", "is_lot(names, thing)"],
+    "sides": ["is_side(thing)", "has(side, power)", "kinds_of(side)", "raws_of(side, kind)", "rows_of(side, kinds)",
+              "operation(side, name)", "result_of(side, name, raws)", "with_powers(side, powers)"],
+    "sidetexts": ["show_side(side)", "read_side(text)"],
+    "likeness": ["classes(side, kind)", "class_of(side, kind, raw)", "likeness(side)", "are_alike(side, kind, one, other)",
+                 "is_likeness(side, thing)"],
+    "telling": ["is_term(side, kind, thing)", "gives(side, kind, term)", "value_of(side, term, raw)", "filled(term, expression)",
+                "term(side, kind, one, other)", "choice(side, kind, raw)"],
+    "tables": ["is_faces(side, thing)", "is_table(left, right, thing)", "is_passable(table)", "is_level(left, right, table)",
+               "twice(left, table)", "faces(table)", "right_faces(table)", "ways_of(table)", "export_of(table, name)",
+               "import_of(table, name)", "let_by(side, way)", "met(way)", "led(side, way, raw)", "out_word(left, table, word)",
+               "into_word(right, table, word)", "with_modes(table, modes)", "with_way(table, face, place, way)"],
+    "tabletexts": ["show_table(left, right, table)", "read_table(left, right, text)"],
+    "programs": ["is_part(side, faces, thing)", "is_partner(side, faces, thing)", "powers_of(program)", "faces_of(program)",
+                 "size_of(program)"],
+    "programtexts": ["show_part(side, faces, part)", "show_partner(side, faces, partner)", "read_part(side, faces, text)",
+                     "read_partner(side, faces, text)"],
+    "alone": ["run_alone(left, table, part, partner, most)"],
+    "glue": ["asked(left, right, table, partner, most)", "came(left, right, table, face, kept)"],
+    "beside": ["run_beside(left, right, table, part, partner, most)"],
+    "relations": ["paper(left, right, table, where, one, other)", "is_paper(left, right, table, where, one, other, thing)"],
+    "tight": ["tight_faults(left, right, table)", "is_tight(left, right, table)", "split(left, right, way)",
+              "split_words(left, right, table)", "split_again(left, right, table)"],
+    "breaks": ["parting(left, right, table, where, one, other, partner, most)", "breaking(left, right, table, fault)",
+               "is_break(left, right, table, thing)"],
+    "faithful": ["faithful_faults(left, right, table)", "is_faithful(left, right, table)", "joined(left, right, way)",
+                 "joined_words(left, right, table)", "missed(left, way)", "missed_words(left, right, table, face)"],
+    "losses": ["losing(left, right, table, fault)", "is_loss(left, right, table, thing)"],
+}
+
+
+class Interface(unittest.TestCase):
+
+    def test_functions(self):
+        for module, told in TOLD.items():
+            with open(os.path.join(FOLDER, module + ".py"), encoding="utf-8") as file:
+                tree = ast.parse(file.read())
+            defined = [node.name for node in tree.body if isinstance(node, ast.FunctionDef)]
+            found = importlib.import_module("besidealone." + module)
+            for line in told:
+                name = line.split("(")[0]
+                self.assertIn(name, defined)
+                self.assertEqual(name + str(inspect.signature(getattr(found, name))), line)
+
+
+if __name__ == "__main__":
+    unittest.main()
