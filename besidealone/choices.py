@@ -25,15 +25,12 @@ class Choices:
         self.tokens = tokens
         # For each import the couples of lots out of which it takes what it does with one and with other.
         self.lots = {}
-        self.known = {}
 
     def holds(self):
         """Whether the PAPER of these tokens, or the least one that begins with them, is one."""
         many = -1
         while many < len(self.tokens.couples):
             many = len(self.tokens.couples)
-            # What has come about is numbered by the lots, which may be others when there are more tokens.
-            self.known = {}
             told = self.inner_calls()
             if told is None:
                 return False
@@ -87,12 +84,17 @@ class Choices:
         """Whether the same is SEEN of a call of main with both PARTS, for all choices."""
         begun = self.begun(face, couple, False)
         waiting = [{}]
+        many = 0
         while waiting:
             choice = waiting.pop()
             outcomes = [self.follow(which, begun[which], choice) for which in (0, 1)]
             asking = [which for which in (0, 1) if outcomes[which][0] == "ask"]
             if asking:
-                waiting.extend(self.taken(choice, asking[0], outcomes[asking[0]]))
+                found = self.taken(choice, asking[0], outcomes[asking[0]])
+                many = many + (len(found) if len(found) > 1 else 0)
+                if many > MOST:
+                    raise TooMany(MOST)
+                waiting.extend(found)
             elif not self.is_same(outcomes):
                 return False
         return True
@@ -107,6 +109,8 @@ class Choices:
             if outcome[3] in been or choice[pick] == WAIT:
                 return EVER
             been[outcome[3]] = True
+            if len(been) > MOST:
+                raise TooMany(MOST)
             outcome = self.movers[which].resume(outcome[3], (), choice[pick])
         return outcome
 
@@ -123,16 +127,7 @@ class Choices:
                 new[group] = index
                 new[pick] = got
                 found.append(new)
-        if len(found) > 1:
-            self.note(found)
         return found
-
-    def note(self, found):
-        """Counts choices that come about."""
-        for choice in found:
-            self.known[tuple(sorted(choice.items()))] = True
-        if len(self.known) > MOST:
-            raise TooMany(MOST)
 
     def is_same(self, outcomes):
         """Whether the same is SEEN of outcomes of main's call."""

@@ -54,9 +54,12 @@ class Single:
         self.waiting = []
         self.known = {}
         self.done = 0
+        # How many there were ahead of what is being looked at.
+        self.elder = 0
 
     def comes_back(self, place, outcome, contents):
         """Whether the PART comes back to main behind an outcome: of main's call, () for the place, or an INNER one."""
+        self.elder = len(self.waiting)
         is_back = self.end_main(outcome, ()) if place == () else self.end_inner(place, outcome, ())
         while self.done < len(self.waiting) and not is_back:
             is_back = self.goes_back(self.waiting[self.done], contents)
@@ -102,7 +105,7 @@ class Single:
             return
         self.known[waiting] = True
         self.waiting.append(waiting)
-        if len(self.waiting) > MOST:
+        if len(self.waiting) - self.elder > MOST:
             raise TooMany(MOST)
 
 
