@@ -266,6 +266,7 @@ class Loops(unittest.TestCase):
 
     def test_loops_in_loops(self):
         # Each time that the inner one is begun it forgets.
+        self.last_on(6, ["var x bit", "while truth.yes", "let x bit.o", "while truth.no", "end", "end"])
         self.last_on(32, ["var n num", "while truth.yes", "while !no truth.yes", "end", "let n !step n", "if truth.yes", "else",
                           "end", "end"])
         self.assertEqual(self.both(["var n num", "while !no !at n", "let n !step n", "while !no truth.yes", "end", "end", "say yes"], 500),

@@ -239,6 +239,39 @@ class Programtexts(unittest.TestCase):
         self.assertEqual(text.split("\n")[3000], "  " * 3000 + "if truth.no")
         self.assertEqual(show_part(SIDE, told, read_part(SIDE, told, text)), text)
 
+    def test_blocks_in_blocks(self):
+        text = """body f
+  var w word
+  try
+    while truth.no
+      try
+        if truth.yes
+          try
+            fail w
+          catch w
+            fail word.off
+          end
+        else
+          while truth.no
+            answer given
+          end
+        end
+      catch w
+      end
+    end
+  catch w
+    if truth.no
+    else
+      answer given
+    end
+  end
+end"""
+        told = ((("f", "bit", "bit"),), ())
+        part = read_part(SIDE, told, text)
+        self.assertEqual(show_part(SIDE, told, part), text)
+        flat = "\n".join([line.strip() for line in text.split("\n")])
+        self.assertEqual(read_part(SIDE, told, flat), part)
+
     def test_there_and_back(self):
         for seed in range(150):
             left, right = make.side(seed, 4), make.side(seed + 5000, 4)

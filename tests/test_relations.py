@@ -326,6 +326,154 @@ class Papers(unittest.TestCase):
         self.paper(False, part, part, left=having(SIDE, "again", "keep", "same"), table=table)
         self.paper(True, part, part, left=having(SIDE, "again", "keep"), table=table)
 
+    def test_things_of_an_elder_inner_call(self):
+        # The first inner call makes a thing, the next one answers it: that one came not from the very call.
+        cells = ["cell c thing", "cell d truth no", "cell e truth no"]
+        inner = ["if @e", "answer @c", "else", "make t given", "put c t", "put e truth.yes", "answer @c", "end"]
+        fresh = ["make t given", "put c t", "answer @c"]
+        table = ((("make", WAY, ("thing",)),), (("ask", WAY, WAY),), SAME, MODES)
+        for rows, want in ((inner, False), (fresh, True)):
+            body = ["var t thing", "var x bit", "if @d"] + rows + ["else", "end", "put d truth.yes", "call x ask given", "put d truth.no",
+                                                                "put e truth.no", "make t given", "answer t"]
+            part = self.part(table, body, cells=cells)
+            self.paper(want, part, part, left=having(SIDE, "again", "keep", "same"), table=table)
+            self.paper(True, part, part, left=having(SIDE, "keep", "same"), table=table)
+            self.paper(True, part, part, left=having(SIDE, "again", "keep"), table=table)
+            beside = {"right": having(SIDE, "again", "same"), "where": "beside"}
+            self.paper(want, part, part, left=having(SIDE, "keep"), table=table, **beside)
+            self.paper(True, part, part, left=having(SIDE, "keep"), table=modes(table, handles="fresh"), **beside)
+
+    def test_fresh_things_of_inner_calls_without_a_memory(self):
+        table = ((("give", ("thing",), ("thing",)), ("make", WAY, ("thing",))), (("ask", WAY, WAY),), SAME, MODES)
+        made = ["var t thing", "make t bit.i", "answer t"]
+        asking = ["var t thing", "var x bit", "call x ask given", "make t bit.i", "answer t"]
+        for powers in (("again", "same"), ("again", "catch", "same"), ("again", "catch", "keep", "same")):
+            side = having(SIDE, *powers)
+            for where in ("alone", "beside"):
+                self.things(True, (made, made), (made, made), table=table, left=side, right=side, where=where)
+                self.things(True, (made, asking), (made, asking), table=table, left=side, right=side, where=where)
+                self.things(False, (["answer given"], asking), (made, asking), table=table, left=side, right=side, where=where)
+
+    ONE = (("bit", ("i",)), ("truth", ("no", "yes")), ("word", ("bad",)))
+
+    def test_one_alone_comes_back_by_a_long_row(self):
+        side, way = (self.ONE, (), ()), ("bit", "bit", ("i",))
+        table = ((("f", way, way),), (("ask", way, way),), (("bad",), ("bad",), "bad", "bad", "bad"), MODES)
+        for many in range(1, 7):
+            ask = ["var x bit"] + ["call x ask given"] * many
+            for end, want in (([], True), (["answer x"], False)):
+                one, other = [read_part(side, faces(table), "\n".join(["body f"] + rows + ["end"])) for rows in (ask + end, [])]
+                for powers in ((), ("keep",)):
+                    for where in ("alone", "beside"):
+                        own = having(side, *powers)
+                        self.paper(want, one, other, left=own, right=own, table=table, where=where)
+
+    HIT = ["cell busy truth no", "cell hit truth no"]
+
+    def test_one_alone_comes_back_by_an_inner_call(self):
+        body = ["var x bit", "if @busy", "put hit truth.yes", "answer given", "else", "put busy truth.yes", "call x ask given", "if @hit",
+                "answer x", "else", "end", "end"]
+        one, other = self.part(TABLE, body, cells=self.HIT), self.part(TABLE, [])
+        self.paper(False, one, other, left=having(SIDE, "again", "keep"))
+        self.paper(True, one, other, left=having(SIDE, "keep"))
+        self.paper(False, one, other, left=having(SIDE, "keep"), right=having(SIDE, "again"), where="beside")
+        self.paper(True, one, other, left=having(SIDE, "again", "keep"), where="beside")
+        # It calls itself again only with o, which may be REFUSED, or never come.
+        only = body[:2] + ["if !on given", "else"] + body[2:3] + ["end"] + body[3:]
+        one = self.part(TABLE, only, cells=self.HIT)
+        self.paper(False, one, other, left=having(SIDE, "again", "keep"))
+        narrow = ((("f", ("bit", "bit", ("i", "")), WAY),),) + TABLE[1:]
+        self.paper(True, one, other, left=having(SIDE, "keep"), right=having(SIDE, "again"), table=narrow, where="beside")
+
+    def test_one_alone_comes_back_by_an_inner_fail_that_is_not_seen(self):
+        body = ["var w word", "var x bit", "if @busy", "put hit truth.yes", "fail word.bad", "else", "put busy truth.yes", "try",
+                "call x ask given", "catch w", "if @hit", "answer given", "else", "end", "end", "end"]
+        one, other = self.part(TABLE, body, cells=self.HIT), self.part(TABLE, [])
+        told = {"left": having(SIDE, "catch", "keep"), "where": "beside"}
+        self.paper(False, one, other, right=having(SIDE, "again"), **told)
+        self.paper(True, one, other, right=SIDE, **told)
+        self.paper(True, one, other, right=having(SIDE, "again"), table=modes(TABLE, again="barred"), **told)
+        self.paper(True, one, other, right=having(SIDE, "again"), table=modes(TABLE, failing="stops"), **told)
+        # A partner that catches the inner FAIL may FAIL itself.
+        self.paper(False, one, other, right=having(SIDE, "again", "catch"), **told)
+
+    def test_an_inner_fail_that_stops(self):
+        body = ["var w word", "var x bit", "if @busy", "put hit truth.yes", "fail word.bad", "else", "put busy truth.yes", "try",
+                "call x ask given", "catch w", "if @hit", "answer bit.%s", "else", "end", "end", "end"]
+        one, other = [self.part(TABLE, [row.replace("%s", raw) for row in body], cells=self.HIT) for raw in "io"]
+        told = {"left": having(SIDE, "catch", "keep"), "where": "beside"}
+        self.paper(False, one, other, right=having(SIDE, "again"), **told)
+        self.paper(True, one, other, right=having(SIDE, "again"), table=modes(TABLE, failing="stops"), **told)
+        self.paper(True, one, other, right=SIDE, **told)
+
+    ROOMS = ((("a", WAY, WAY), ("m", WAY, ("thing",)), ("s", ("thing",), WAY)), (("ask", WAY, WAY),), SAME, MODES)
+    ASKS = ["var x bit", "put busy truth.yes", "call x ask given", "if @hit", "answer x", "else", "end"]
+    SHOWN = ["if @busy", "put hit truth.yes", "else", "end", "answer bit.i"]
+
+    def test_one_alone_with_things_that_come_on_the_way(self):
+        make_inner = ["var t thing", "if @busy", "make t word.off", "answer t", "else", "end"]
+        for made, want in ((make_inner, False), ([], True)):
+            one = self.part(self.ROOMS, self.ASKS, made, self.SHOWN, cells=self.HIT)
+            other = self.part(self.ROOMS, [], [], [])
+            self.paper(want, one, other, left=having(SIDE, "again", "keep"), table=self.ROOMS)
+            self.paper(want, one, other, left=having(SIDE, "keep"), right=having(SIDE, "again"), table=self.ROOMS, where="beside")
+
+    def test_one_alone_with_things_that_come_later(self):
+        make_it = ["var t thing", "make t truth.yes", "answer t"]
+        none = ["var t thing", "make t truth.yes"]
+        for made, want in ((make_it, False), (none, True)):
+            cells = self.HIT + ["cell z bit i"]
+            one = self.part(self.ROOMS, self.ASKS, made, self.SHOWN, cells=cells)
+            other = self.part(self.ROOMS, [], made, ["answer bit.i"])
+            self.paper(want, one, other, left=having(SIDE, "again", "keep"), table=self.ROOMS)
+
+    def test_things_that_come_from_things(self):
+        table = ((("next", ("thing",), ("thing",)), ("start", WAY, ("thing",))), (("ask", WAY, WAY),), SAME, MODES)
+        step = ["var t thing", "var x word", "look x given", "if !isbad x", "make t word.deep", "else", "if !isdeep x", "make t word.off",
+                "else", "make t truth.no", "end", "end", "answer t"]
+        start = ["var t thing", "make t word.bad", "answer t"]
+        tokens = tuple([(content, content) for content in (("truth", "no"), ("word", "bad"), ("word", "deep"), ("word", "off"))])
+        asking = ["var x bit", "call x ask given"] + start[1:]
+        for powers in ((), ("keep",), ("again", "keep"), ("again", "catch"), ("again", "catch", "keep")):
+            side = having(SIDE, *powers)
+            for where in ("alone", "beside"):
+                for first in (start, start[:1] + asking):
+                    self.things(((((), ()),), tokens), (step, first), (step, first), left=side, right=side, table=table, where=where)
+            # Only an inner call makes the last one.
+            inner = ["var w word", "var y bit"] + step[:9] + ["try", "call y ask bit.i", "catch w", "if !isdeep w", "make t truth.no", "else",
+                                                            "end", "end", "end", "end", "answer t"]
+            many = 4 if "again" in powers and "catch" in powers else 3
+            if "catch" in powers:
+                words = (SAME[0], ("bad", "bad", "bad")) + SAME[2:]
+                own = table[:2] + (words,) + table[3:]
+                want = tokens if many == 4 else tokens[1:]
+                self.things(((((), ()),), want), (inner, start), (inner, start), left=having(SIDE, "catch"), right=side, table=own,
+                            where="beside")
+
+    def test_an_import_that_waits_with_one_part_only(self):
+        # An inner call tells the import which PART it is; it may go on for ever with one and answer the other one.
+        def body(raw):
+            return ["var w word", "var x bit", "try", "call x ask given", "catch w", "if !isdeep w", "answer bit." + raw, "else", "end",
+                    "end", "answer bit.i"]
+
+        table = TABLE[:2] + ((SAME[0], ("bad", "bad", "bad")) + SAME[2:], MODES)
+        for powers in (("again",), ("again", "catch"), ("again", "catch", "keep")):
+            told = {"left": having(SIDE, "catch"), "right": having(SIDE, *powers), "where": "beside"}
+            self.bodies(False, body("i"), body("o"), table=table, **told)
+            self.bodies(True, body("i"), body("o"), table=modes(table, again="barred"), **told)
+            self.bodies(True, body("i"), body("o"), table=modes(table, imports="tabled"), **told)
+            self.bodies(True, body("i"), body("i"), table=table, **told)
+
+    def test_an_import_that_fails_with_one_part_only(self):
+        def body(raw):
+            return ["var w word", "var x bit", "try", "call x ask given", "catch w", "if !isdeep w", "answer bit." + raw, "else", "end",
+                    "while truth.yes", "end", "end", "while truth.yes", "end"]
+
+        # Whatever the import does, main's call never comes back.
+        table = TABLE[:2] + ((SAME[0], ("bad", "bad", "bad")) + SAME[2:], MODES)
+        for powers in (("again",), ("again", "catch"), ("again", "catch", "keep")):
+            self.bodies(True, body("i"), body("o"), table=table, left=having(SIDE, "catch"), right=having(SIDE, *powers), where="beside")
+
     def test_states(self):
         last = self.part(TABLE, ["var x bit", "let x @c", "put c given", "answer x"], cells=["cell c bit o"])
         echo = self.part(TABLE, ["answer given"])
@@ -427,6 +575,26 @@ class Many(unittest.TestCase):
         self.assertEqual(caught.exception.most, 4000)
         # Where not the same is SEEN before so many come about there is no PAPER.
         self.assertIsNone(paper(COUNT, COUNT, table, "alone", self.counter(table, 4), self.part(table, ["answer truth.no"])))
+
+    def test_just_four_thousand_states(self):
+        kinds = (("five", tuple("abcde")),) + NUM
+        steps = (("at", ("num",), "truth", ("no",) * 7 + ("yes",)), ("last", ("five",), "truth", ("no",) * 4 + ("yes",)),
+                 ("no", ("truth",), "truth", ("yes", "no")), ("on", ("five",), "five", tuple("bcdea")),
+                 ("step", ("num",), "num", tuple("bcdefgha")))
+        side = (kinds, steps, ("keep",))
+        table = self.table()
+        cells = ["cell " + name + " five a" for name in "abc"] + ["cell n num a", "cell y truth no", "cell z truth no"]
+        rows = ["put z !no @z", "if @z", "else"]
+        for name in "abc":
+            rows += ["put " + name + " !on @" + name, "if !last @" + name]
+        rows += ["put n !step @n", "if !at @n", "put y !no @y", "else", "end"] + ["else", "end"] * 3 + ["end", "answer given"]
+        plain = self.part(table, ["answer given"], side=side)
+        found = paper(side, side, table, "alone", self.part(table, rows, cells, side), plain)
+        self.assertEqual(len(found[0]), 4000)
+        self.assertIs(is_paper(side, side, table, "alone", self.part(table, rows, cells, side), plain, found), True)
+        more = self.part(table, ["put x truth.yes"] + rows, cells + ["cell x truth no"], side)
+        with self.assertRaises(TooMany):
+            paper(side, side, table, "alone", more, plain)
 
     def test_waiting(self):
         told = ("truth", "truth", ("no", "yes"))
