@@ -1,5 +1,6 @@
 """Papers of likeness [26]."""
 
+import bisect
 import collections
 import itertools
 import unittest
@@ -8,7 +9,7 @@ from besidealone.alone import run_alone
 from besidealone.beside import run_beside
 from besidealone.errors import Nothing, TooMany
 from besidealone.programs import is_part
-from besidealone.programtexts import read_part
+from besidealone.programtexts import read_part, read_partner
 from besidealone.relations import is_paper, paper
 from besidealone.tables import faces, right_faces, with_modes
 from tests import make
@@ -655,6 +656,30 @@ class Many(unittest.TestCase):
                 self.assertEqual(paper(COUNT, COUNT, table, "alone", part, plain), TRIVIAL)
             else:
                 self.too_many(TRIVIAL, COUNT, COUNT, table, "alone", part, plain)
+
+    def test_just_four_thousand_steps(self):
+        table = self.table((("ask", NUMWAY, NUMWAY),))
+        names = "pqr"
+        begin = ["var " + name + " num" for name in names]
+        loop = ["while !no !at r"] + counting(names, "") + ["end"]
+        plain = self.part(table, ["answer given"])
+        partner = read_partner(COUNT, faces(table), "main\nvar y truth\ncall y f y\nend\nbody ask\nanswer given\nend")
+
+        def steps(rows):
+            """How many STEPS lie between the call and the answer."""
+            part = self.part(table, rows)
+            return bisect.bisect_left(range(6000), 2, key=lambda most: len(run_alone(COUNT, table, part, partner, most)[1])) - 1
+
+        short = begin + loop + ["answer given"]
+        pad = ["let p p"] * (4000 - steps(short))
+        just = begin + pad + loop + ["answer given"]
+        self.assertEqual(steps(just), 4000)
+        self.assertEqual(paper(COUNT, COUNT, table, "alone", self.part(table, just), plain), TRIVIAL)
+        self.too_many(TRIVIAL, COUNT, COUNT, table, "alone", self.part(table, begin + ["let p p"] + just[3:]), plain)
+        # They are counted from CROSSING to CROSSING.
+        asking = [begin + ["var x num"] + first + ["call x ask num.a"] + just[3:] for first in ([], pad + loop)]
+        for rows in asking:
+            self.assertEqual(paper(COUNT, COUNT, table, "alone", self.part(table, rows), self.part(table, rows)), TRIVIAL)
 
     def test_loops_that_runs_do_not_end(self):
         table = self.table((("ask", NUMWAY, NUMWAY),))
