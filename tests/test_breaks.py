@@ -1,6 +1,7 @@
 """Breaks [28] and losses [30]."""
 
 import collections
+import itertools
 import unittest
 
 from besidealone.alone import run_alone
@@ -231,27 +232,39 @@ def is_even(left, right, table):
 
 class Many(unittest.TestCase):
 
-    def test_too_many_is_no_break_and_no_loss(self):
-        kinds = (("num", tuple("abcdefgh")), ("truth", ("no", "yes")), ("word", ("bad",)))
-        steps = (("at", ("num",), "truth", ("no",) * 7 + ("yes",)), ("step", ("num",), "num", tuple("bcdefgha")))
-        side = (kinds, steps, ("keep",))
-        way = ("truth", "truth", ("no", "yes"))
-        table = ((("f", way, way), ("g", way, way)), (), (("bad",), ("bad",), "bad", "bad", "bad"), ("crosses", "live", "let", "kept"))
-        count = ["put p !step @p", "if !at @p", "put q !step @q", "if !at @q", "put r !step @r", "if !at @r", "put s !step @s", "else", "end",
-                 "else", "end", "else", "end"]
-        cells = ["cell " + name + " num a" for name in "pqrs"]
-        one, other = [read_part(side, faces(table), "\n".join(cells + ["body f"] + count + ["answer " + raw, "end", "body g", "end"]))
-                      for raw in ("truth.no", "truth.yes")]
-        same = read_part(side, faces(table), "\n".join(["body f", "answer truth.no", "end", "body g", "end"]))
-        partner = read_partner(side, faces(table), "main\nvar y truth\ncall y f y\nif y\nelse\nsay yes\nend\nend")
-        self.assertIs(is_break(side, side, table, (one, other, partner, ((), ()))), False)
-        with self.assertRaises(TooMany):
-            is_paper(side, side, table, "alone", one, same, (((("a", "a", "a", "a"), ()),), ())) or paper(side, side, table, "alone", one, same)
-        whole = tuple([((p, q, r, s), ()) for p in kinds[0][1] for q in kinds[0][1] for r in kinds[0][1] for s in kinds[0][1]])
-        lost = ((("f", way, ("truth", "truth", ("no", "no"))),) + table[0][1:],) + table[1:]
-        for told, is_it in ((table, is_break), (lost, is_loss)):
-            self.assertIs(is_it(side, side, told, (one, same, partner, (whole, ()))), False)
-            self.assertIs(is_it(side, side, told, (same, other, partner, (whole, ()))), False)
+    def raising(self, told, error, left, right, table, where, is_it):
+        """One PART more in the place of the first one makes is_paper raise; so it is no BREAK, and no LOSS."""
+        one, other, partner, shown = told
+        self.assertEqual(parting(left, right, table, where, one, other, partner, 2000), "one")
+        with self.assertRaises(error):
+            is_paper(left, right, table, SORTS[where][3], one, other, shown)
+        self.assertIs(asked(self, is_it, left, right, table, told), False)
+
+    def test_what_is_paper_raises_is_no_break_and_no_loss(self):
+        for name, where, powers, fault in (("raws split", "beside", ("keep", "same"), ("T1", "f")),
+                                           ("raws joined, classes missed", "alone", ("keep", "same"), ("F1", "g"))):
+            left, right, table = CASES[name]
+            left = with_powers(left, powers)
+            find, is_it, _, _ = SORTS[where]
+            one, other, partner, shown = find(left, right, table, fault)
+            self.assertIs(is_it(left, right, table, (one, other, partner, shown)), True)
+            at = [row[0] for row in table[0]].index(fault[1])
+            names, statements = one[1][at]
+            thing = ("name", "t")
+
+            def exchanged(cells, rows):
+                return cells, one[1][:at] + ((names, rows),) + one[1][at + 1:]
+
+            asking = exchanged((), statements + (("if", ("same", thing, thing), (), ()),))
+            self.raising((asking, other, partner, shown), Nothing, left, right, table, where, is_it)
+            many = tuple("c" + letter for letter in "abcdefghijkl")
+            count = ()
+            for cell in many[::-1]:
+                count = (("if", ("cell", cell), (("put", cell, ("raw", "truth", "no")),) + count, (("put", cell, ("raw", "truth", "yes")),)),)
+            cells = tuple([(cell, "truth", "no") for cell in many])
+            counting = exchanged(cells, count + statements)
+            whole = tuple([(row, ()) for row in itertools.product(("no", "yes"), repeat=12)])
+            self.raising((counting, other, partner, (whole, ())), TooMany, left, right, table, where, is_it)
 
     def test_at_the_bounds(self):
         powers = (("again", "catch", "keep", "same"), (), ("catch",), ("again", "keep"))
