@@ -12,10 +12,7 @@ from besidealone.walks import Tokens, Walk
 
 def paper(left, right, table, where, one, other):
     """The PAPER with the fewest states and tokens, None if there is none."""
-    need_no_same(one, other)
-    sight = Sight(left, right, table, where)
-    movers = [Mover(left, sight.faces[0], part, sight.inner, sight.tells_things) for part in (one, other)]
-    first = (movers[0].first_state(), movers[1].first_state())
+    sight, movers, first = set_beside(left, right, table, where, one, other)
     tokens = Tokens((), False)
     if remembers(sight, one, other):
         walk = Walk(sight, movers, tokens, (first,), False)
@@ -25,10 +22,7 @@ def paper(left, right, table, where, one, other):
 
 def is_paper(left, right, table, where, one, other, thing):
     """Whether any value is a PAPER."""
-    need_no_same(one, other)
-    sight = Sight(left, right, table, where)
-    movers = [Mover(left, sight.faces[0], part, sight.inner, sight.tells_things) for part in (one, other)]
-    first = (movers[0].first_state(), movers[1].first_state())
+    sight, movers, first = set_beside(left, right, table, where, one, other)
     if not is_row(2, thing) or not are_states(left, (one[0], other[0]), thing[0]) or first not in thing[0]:
         return False
     if not are_tokens(left, thing[1]):
@@ -39,10 +33,13 @@ def is_paper(left, right, table, where, one, other, thing):
     return Choices(sight, movers, tokens).holds()
 
 
-def need_no_same(one, other):
-    """Raises Nothing if one of two PARTS asks which things are the same."""
+def set_beside(left, right, table, where, one, other):
+    """What a partner at a WHERE SEES, two PARTS ready to be led on, and the couple of their first states."""
     if "same" in powers_of(one) or "same" in powers_of(other):
         raise Nothing()
+    sight = Sight(left, right, table, where)
+    movers = [Mover(left, sight.faces[0], part, sight.inner, sight.tells_things) for part in (one, other)]
+    return sight, movers, (movers[0].first_state(), movers[1].first_state())
 
 
 def remembers(sight, one, other):
