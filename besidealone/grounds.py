@@ -6,6 +6,8 @@ from besidealone.telling import filled, term, value_of
 
 YES = ("raw", "truth", "yes")
 SAY_YES = ("say", "yes")
+# It goes on for ever, as nothing changes.
+FOR_EVER = ("while", ("raw", "truth", "yes"), ())
 GIVEN = ("name", "given")
 
 

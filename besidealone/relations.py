@@ -12,12 +12,18 @@ from besidealone.walks import Tokens, Walk
 
 def paper(left, right, table, where, one, other):
     """The PAPER with the fewest states and tokens, None if there is none."""
+    return looked_for(left, right, table, where, one, other)[0]
+
+
+def looked_for(left, right, table, where, one, other):
+    """The same, with the Walk, or the Choices, that it comes from, or that tells where there is none."""
     sight, movers, first = set_beside(left, right, table, where, one, other)
     tokens = Tokens((), False)
     if remembers(sight, one, other):
         walk = Walk(sight, movers, tokens, (first,), False)
-        return (tuple(sorted(walk.states)), tuple(sorted(tokens.known))) if walk.holds() else None
-    return ((first,), tuple(sorted(tokens.known))) if Choices(sight, movers, tokens).holds() else None
+        return ((tuple(sorted(walk.states)), tuple(sorted(tokens.known))) if walk.holds() else None, walk)
+    choices = Choices(sight, movers, tokens)
+    return (((first,), tuple(sorted(tokens.known))) if choices.holds() else None, choices)
 
 
 def is_paper(left, right, table, where, one, other, thing):

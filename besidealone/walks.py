@@ -1,4 +1,7 @@
-"""Two PARTS led on beside one another by a partner that REMEMBERS."""
+"""Two PARTS led on beside one another by a partner that REMEMBERS.
+
+A move of the partner is ("call", face, value) or ("got", got); of both PARTS at once it has couples of these.
+"""
 
 from besidealone.errors import TooMany
 from besidealone.movers import MOST, state_of
@@ -38,6 +41,19 @@ def is_taken(sight, tokens, outcomes, is_inner):
     return tokens.has_or_takes(outcomes[0][1], outcomes[1][1])
 
 
+def path_of(moves, last):
+    """The moves that lead to where a last one is made.
+
+    A move is told with the index of where it is made, moves telling how one comes to each index; -1 is the begin.
+    """
+    found = []
+    at, move = last
+    while at >= 0:
+        found.append(move)
+        at, move = moves[at]
+    return found[::-1]
+
+
 class Single:
     """One PART alone, behind what was not SEEN the same."""
 
@@ -52,6 +68,8 @@ class Single:
             self.calls[name] = sorted({couple[which] for couple in sight.calls[name]})
         # Where it waits, what its cells have, and what things came on the way; how many of these were led on.
         self.waiting = []
+        self.moves = []
+        self.now = (-1, ())
         self.known = {}
         self.done = 0
         # How many there were ahead of what is being looked at.
@@ -60,6 +78,7 @@ class Single:
     def comes_back(self, place, outcome, contents):
         """Whether the PART comes back to main behind an outcome: of main's call, () for the place, or an INNER one."""
         self.elder = len(self.waiting)
+        self.now = (-1, ())
         is_back = self.end_main(outcome, ()) if place == () else self.end_inner(place, outcome, ())
         while self.done < len(self.waiting) and not is_back:
             is_back = self.goes_back(self.waiting[self.done], contents)
@@ -70,6 +89,7 @@ class Single:
         """Whether one reply or INNER call leads the PART back to main; what it leads to else is looked at later."""
         place, cells, came = waiting
         for got in self.replies[self.mover.import_at(place)]:
+            self.now = (self.done, ("got", got))
             if self.end_main(self.mover.resume(place, cells, got), came):
                 return True
         if not self.sight.calls_again:
@@ -77,6 +97,7 @@ class Single:
         for face, takes, answers in self.sight.faces[0]:
             given = sorted({content for content in contents + list(came)}) if takes == "thing" else self.calls[face]
             for value in given:
+                self.now = (self.done, ("call", face, value))
                 if self.end_inner(place, self.mover.begin(face, value, cells, True), came):
                     return True
         return False
@@ -105,8 +126,13 @@ class Single:
             return
         self.known[waiting] = True
         self.waiting.append(waiting)
+        self.moves.append(self.now)
         if len(self.waiting) - self.elder > MOST:
             raise TooMany(MOST)
+
+    def way_back(self):
+        """The moves by which the PART has come back to main."""
+        return path_of(self.moves, self.now)
 
 
 class Walk:
@@ -121,9 +147,13 @@ class Walk:
         # What is to be led on: couples of states, and couples of what both PARTS do while an import waits; for
         # each one how many tokens were handed over there, -1 if nothing was done there yet.
         self.rows = []
+        self.moves = []
+        self.now = (-1, ())
         self.done = []
         self.known = {}
         self.apart = {}
+        # Which ones of both PARTS come back to main where not the same is SEEN.
+        self.backs = [False, False]
         self.singles = self.new_singles()
         for couple in states:
             self.add_state(couple)
@@ -160,6 +190,7 @@ class Walk:
             return
         self.known[row] = True
         self.rows.append(row)
+        self.moves.append(self.now)
         self.done.append(-1)
         if len(self.rows) > MOST:
             raise TooMany(MOST)
@@ -170,28 +201,30 @@ class Walk:
         couples = self.tokens.couples[max(done, 0):]
         self.done[at] = done + len(couples) + (1 if done < 0 else 0)
         if row[0] == "main":
-            return self.call_all(row[1], couples, done < 0, ())
-        if done < 0 and not self.reply_all(row):
+            return self.call_all(at, row[1], couples, done < 0, ())
+        if done < 0 and not self.reply_all(at, row):
             return False
         if not self.sight.calls_again:
             return True
-        return self.call_all((row[1][1], row[2][1]), couples, done < 0, (row[1][0], row[2][0]))
+        return self.call_all(at, (row[1][1], row[2][1]), couples, done < 0, (row[1][0], row[2][0]))
 
-    def call_all(self, cells, couples, is_new, places):
+    def call_all(self, at, cells, couples, is_new, places):
         """All calls of exports, INNER ones if the PARTS wait at places; whether the PAPER may hold."""
         for face, takes, answers in self.sight.faces[0]:
             given = couples if takes == "thing" else self.sight.calls[face] if is_new else []
             for values in given:
+                self.now = (at, ("call", face, values))
                 outcomes = [self.movers[which].begin(face, values[which], cells[which], places != ())
                             for which in (0, 1)]
                 if not (self.end_main(outcomes) if places == () else self.end_inner(places, outcomes)):
                     return False
         return True
 
-    def reply_all(self, row):
+    def reply_all(self, at, row):
         """All that a call of an import may give; whether the PAPER may hold."""
         name = self.movers[0].import_at(row[1][0])
         for got in self.sight.replies[name]:
+            self.now = (at, ("got", got))
             outcomes = [self.movers[which].resume(row[1 + which][0], row[1 + which][1], got[which])
                         for which in (0, 1)]
             if not self.end_main(outcomes):
@@ -239,5 +272,10 @@ class Walk:
 
     def stays_away(self, places, outcomes):
         """Whether neither PART comes back to main behind these outcomes."""
-        return not any([self.singles[which].comes_back(places[which], outcomes[which], self.tokens.of(which))
-                        for which in (0, 1)])
+        self.backs = [self.singles[which].comes_back(places[which], outcomes[which], self.tokens.of(which))
+                      for which in (0, 1)]
+        return not any(self.backs)
+
+    def way_apart(self):
+        """The moves that lead both PARTS to where they come apart."""
+        return path_of(self.moves, self.now)

@@ -36,6 +36,14 @@ TOLD = {
     "faithful": ["faithful_faults(left, right, table)", "is_faithful(left, right, table)", "joined(left, right, way)",
                  "joined_words(left, right, table)", "missed(left, way)", "missed_words(left, right, table, face)"],
     "losses": ["losing(left, right, table, fault)", "is_loss(left, right, table, thing)"],
+    "back": ["replaying(left, table, log)", "brought_back(left, right, table, one, other, partner, most)"],
+    "over": ["led_over(left, right, table, one, other, partner, most)"],
+    "compared": ["compared(left, right, table, where, one, other)", "lots(left, right, table, where, parts)",
+                 "is_compared(left, right, table, where, one, other, thing)"],
+    "mends": ["mode_mends(left, right, table, wish)", "mended_out(left, right, way, wish)", "mended_into(left, right, way)",
+              "is_mended_out(left, right, way, wish, thing)", "is_mended_into(left, right, way, thing)"],
+    "chains": ["do_fit(left, middle, right, one, other)", "put_together(left, middle, right, one, other)",
+               "lost_between(left, middle, right, one, other)"],
 }
 
 
