@@ -132,7 +132,9 @@ class Contest:
         return ()
 
     def found(self, specs, gots, most, is_last):
-        """The first spec that tells both apart, with what it and what is ahead of it come to with the first PART; or ().
+        """The first spec that tells both apart, with what it, and what is ahead of it, come to with the first PART.
+
+        () is returned if there is none.
 
         What still goes on behind so many STEPS is passed by, unless this is the last try.
         """

@@ -35,7 +35,7 @@ class Ask:
 
 
 class Script:
-    """A PARTNER that is being written, for a SIDE and its FACES; only one item of its row is looked at, or, at -1, all."""
+    """A PARTNER that is being written; it looks at one item of its row, told by its index, or, at -1, at all."""
 
     def __init__(self, side, told, row, only):
         self.side = side
@@ -161,7 +161,7 @@ class Script:
         self.firsts.setdefault(item[2], number)
 
     def thing_checks(self, thing, target):
-        """STATEMENTS that go on for ever where what came is not just the thing, of those that came, that it has to be."""
+        """STATEMENTS that go on for ever where a thing that came is not just the one that it has to be."""
         if thing in self.firsts:
             return [("if", ("same", target, self.receipt(self.firsts[thing])), (), (FOR_EVER,))]
         elder = [self.receipt(number) for number in self.firsts.values()]
@@ -208,7 +208,7 @@ class Script:
 
 
 def checks_by(chosen, expression):
-    """STATEMENTS that go on for ever unless these TERMS, with an EXPRESSION in the hole, have the values beside them."""
+    """STATEMENTS that go on for ever unless TERMS, with an EXPRESSION in the hole, have the truths beside them."""
     found = []
     for told, truth in chosen:
         blocks = ((), (FOR_EVER,)) if truth == "yes" else ((FOR_EVER,), ())
@@ -257,9 +257,10 @@ def kept_receipts(side, row):
 
 
 def played(side, told, row, only, bodies):
-    """The PARTNER for a SIDE and its FACES that plays a row; it looks at one item, told by its index, or, at -1, at all.
+    """The PARTNER for a SIDE and its FACES that plays a row.
 
-    bodies tells of imports whose bodies are others: for each one its variables and its STATEMENTS.
+    It looks at one item, told by its index, or, at -1, at all. bodies tells of imports whose bodies are others: for
+    each one its variables and its STATEMENTS.
     """
     script = Script(side, told, row, only)
     for at, item in enumerate(row):
