@@ -1,7 +1,7 @@
 """The acts of which a body that is made ready consists, and how they are run one behind the other.
 
 An act is a function of a Frame. It returns None where the body goes on by itself, otherwise what has to be done
-for it: ("call", face, value), ("answer", value), ("fails", word), ("say", raw), ("end",) or ("ever",).
+for it: ("call", face, value), ("answer", value), ("fails", word), ("say", raw), ("end",), ("ever",) or ("wrong",).
 A reader is a function of a Frame, too: it returns what an EXPRESSION gives there.
 """
 
@@ -118,11 +118,31 @@ def let_act(place, read):
     return let
 
 
+def let_thing_act(place, read):
+    """Has a variable have the thing that is read."""
+    def let(frame):
+        elder, thing = frame.held[place], read(frame)
+        frame.held[place] = thing
+        frame.at += 1
+        return frame.things.took(thing, elder)
+    return let
+
+
 def put_act(place, read):
     """Has a cell have what is read."""
     def put(frame):
         frame.cells[place] = read(frame)
         frame.at += 1
+    return put
+
+
+def put_thing_act(place, read):
+    """Has a cell have the thing that is read."""
+    def put(frame):
+        elder, thing = frame.cells[place], read(frame)
+        frame.cells[place] = thing
+        frame.at += 1
+        return frame.things.took(thing, elder)
     return put
 
 
@@ -134,8 +154,10 @@ def call_act(face, read):
 def make_act(place, kind, read):
     """Makes a thing."""
     def make(frame):
+        elder = frame.held[place]
         frame.held[place] = frame.things.make(kind, read(frame))
         frame.at += 1
+        return frame.things.lost(elder)
     return make
 
 

@@ -29,17 +29,17 @@ class Player:
     def move(self, move):
         """Has the partner make a move."""
         if move[0] == "call":
-            self.row.append(("call", move[1], self.hand.sent(move[1], move[2])))
+            self.row.append(("call", move[1], self.hand.to_send(move[1], move[2])))
             outcome = self.mover.begin(move[1], move[2], self.state, self.place != ())
             if self.place == ():
-                self.go_on(outcome)
+                self.follow_on(outcome)
             else:
-                self.end_inner(outcome)
+                self.follow_inner(outcome)
         else:
             self.row.append(self.hand.deed(self.mover.import_at(self.place), move[1]))
-            self.go_on(self.mover.resume(self.place, self.state, move[1]))
+            self.follow_on(self.mover.resume(self.place, self.state, move[1]))
 
-    def go_on(self, outcome):
+    def follow_on(self, outcome):
         """Goes on with what the PART does in main's call."""
         self.row.append(self.item(outcome))
         if outcome[0] == "ask":
@@ -47,22 +47,22 @@ class Player:
         else:
             self.place, self.state = (), outcome[2]
 
-    def end_inner(self, outcome):
+    def follow_inner(self, outcome):
         """Goes on with what the PART does in an INNER call."""
         self.row.append(self.item(outcome))
         self.state = outcome[2]
         if outcome[0] == "fails" and not self.sight.sees_fails:
             # Nobody catches it, so that the import FAILS as well.
-            self.row.append(("fails", self.hand.failed_by(outcome[1])))
-            self.go_on(self.mover.resume(self.place, self.state, ("failed", self.sight.back[outcome[1]])))
+            self.row.append(("fails", self.hand.fail_got(outcome[1])))
+            self.follow_on(self.mover.resume(self.place, self.state, ("failed", self.sight.back[outcome[1]])))
 
     def item(self, outcome):
         """What the partner gets."""
         if outcome[0] == "answer":
-            return ("answer", self.hand.answered(outcome[3], outcome[1]))
+            return ("answer", self.hand.answer_got(outcome[3], outcome[1]))
         if outcome[0] == "ask":
-            return ("ask", outcome[1], self.hand.asked_with(outcome[1], outcome[2]))
-        return ("failed", self.hand.failed_by(outcome[1]))
+            return ("ask", outcome[1], self.hand.asking_got(outcome[1], outcome[2]))
+        return ("failed", self.hand.fail_got(outcome[1]))
 
 
 def tries_of(judge):
@@ -105,7 +105,7 @@ def chosen(hand, choices, which, whose):
     """The PARTNER that makes one call, whose imports do what Choices have found."""
     face, values, picked, outcomes = choices.apart
     player = Player(hand, choices.sight, choices.movers[which])
-    row = [("call", face, hand.sent(face, values[whose])), player.item(outcomes[which])]
+    row = [("call", face, hand.to_send(face, values[whose])), player.item(outcomes[which])]
     groups = asked_groups(choices, which, face, values[which], picked)
     bodies = {}
     for name, takes, answers in hand.faces[1]:
@@ -113,7 +113,7 @@ def chosen(hand, choices, which, whose):
         rows = []
         for own, lot in groups:
             if own == name:
-                rows.extend(writer.at_class(takes, lot, writer.deeds(picked[LOTS, name, lot])))
+                rows.extend(writer.at_class(takes, lot, writer.deed_rows(picked[LOTS, name, lot])))
         rows.extend(elsewhere(choices, writer, takes, groups, picked))
         bodies[name] = (writer.names, rows)
     return played(hand.side, hand.faces, row, 1, bodies)
@@ -139,8 +139,8 @@ def elsewhere(choices, writer, takes, groups, picked):
         others = [key[1:] for key in picked if key[0] == LOTS and key[1] == writer.name]
         for name, lot in others:
             if (name, lot) not in groups:
-                rows.extend(writer.at_class(takes, lot, writer.deeds(picked[LOTS, name, lot])))
-    return rows + writer.waiting()
+                rows.extend(writer.at_class(takes, lot, writer.deed_rows(picked[LOTS, name, lot])))
+    return rows + writer.wait_rows()
 
 
 class Answerer:
@@ -155,7 +155,7 @@ class Answerer:
         self.answers = {face: answers for face, takes, answers in hand.faces[0] + hand.faces[1]}
         self.names = {"given": self.takes[name]}
 
-    def waiting(self):
+    def wait_rows(self):
         """STATEMENTS that have the PART wait for ever."""
         if self.hand.asks_ahead:
             # What is asked ahead may not go on for ever; where the PART may wait a FAIL ends all.
@@ -166,34 +166,34 @@ class Answerer:
         """The STATEMENTS where the import is asked with a RAW of a CLASS."""
         return where_alike(self.hand.side, takes, lot[0], GIVEN, tuple(statements), ())
 
-    def deeds(self, index):
+    def deed_rows(self, index):
         """STATEMENTS that do what the lots of an index say, behind the INNER call that they need, if any."""
         lots = self.choices.lots[self.name][index]
         inner = self.choices.inner[self.name][lots]
         got = lots[self.which][0]
-        last = self.waiting()
+        last = self.wait_rows()
         if got != WAIT:
             last = [deed_statement(self.answers[self.name], self.hand.deed(self.name, got))]
-        return last if inner == () else self.behind(inner, last)
+        return last if inner == () else self.behind_call(inner, last)
 
-    def behind(self, inner, last):
+    def behind_call(self, inner, last):
         """STATEMENTS that make an INNER call, and go on if it comes to what it comes to with the PART."""
         face, values = inner
         outcome = self.choices.movers[self.which].begin(face, values[self.which], (), True)
         name = variable_for(self.hand.side, self.answers[face])
         self.names[name] = self.answers[face]
-        call = ("call", name, face, ("raw", self.takes[face], self.hand.sent(face, values[self.whose])))
+        call = ("call", name, face, ("raw", self.takes[face], self.hand.to_send(face, values[self.whose])))
         head = sign_of(self.choices.sight, outcome, True)[0]
         if head == "answer":
-            raw = self.hand.answered(face, outcome[1])
-            return [call] + self.checks(self.answers[face], raw, name) + last
+            raw = self.hand.answer_got(face, outcome[1])
+            return [call] + self.check_rows(self.answers[face], raw, name) + last
         if head == "fails":
             self.names[WORD_NAME] = "word"
-            word = self.hand.failed_by(outcome[1])
-            return [("try", (call, FOR_EVER), WORD_NAME, ())] + self.checks("word", word, WORD_NAME) + last
+            word = self.hand.fail_got(outcome[1])
+            return [("try", (call, FOR_EVER), WORD_NAME, ())] + self.check_rows("word", word, WORD_NAME) + last
         # By its FAIL the import FAILS; or all ends.
         return [call, FOR_EVER]
 
-    def checks(self, kind, raw, name):
+    def check_rows(self, kind, raw, name):
         """STATEMENTS that go on for ever unless a variable has what is ALIKE to a RAW."""
         return checks_by(choice(self.hand.side, kind, raw), ("name", name))

@@ -1,7 +1,7 @@
 """Runs BESIDE: a TABLE lies between part and partner."""
 
 from besidealone.acts import Clock
-from besidealone.glue import asked_ahead, came
+from besidealone.glue import ahead_of_main, came
 from besidealone.ready import Program
 from besidealone.runs import Run
 from besidealone.sides import raws_of
@@ -58,11 +58,9 @@ def run_beside(left, right, table, part, partner, most):
     clock = Clock(most)
     exports, imports = faces(table)
     there = Program(right, right_faces(table)[1], partner)
-    kept = {}
-    if table[3][1] == "tabled":
-        end, kept = asked_ahead(table, there, clock)
-        if end != "":
-            return (end, (), ())
+    end, kept = ahead_of_main(table, there, clock)
+    if end != "":
+        return (end, (), ())
     seam = Seam(left, right, table, kept)
     run = Run(Program(left, exports, part), there, exports, table[2][4], seam, clock)
     run.go()

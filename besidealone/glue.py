@@ -35,6 +35,11 @@ def asked_ahead(table, partner, clock):
     return "", kept
 
 
+def ahead_of_main(table, partner, clock):
+    """The same of what happens ahead of main: where imports are live nothing is asked."""
+    return asked_ahead(table, partner, clock) if table[3][1] == "tabled" else ("", {})
+
+
 def asked_once(partner, name, raw, refused, clock):
     """What the body of an import does with a RAW while all its calls FAIL; ("on",) or ("ever",) if it doesn't end."""
     frame = begun(partner.bodies[name], raw, list(partner.first), Receipts(True))

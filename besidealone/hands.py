@@ -19,7 +19,7 @@ class NearHand:
         # Whether what the bodies of imports do is asked ahead of main.
         self.asks_ahead = False
 
-    def sent(self, face, raw):
+    def to_send(self, face, raw):
         """The RAW with which it calls an export so that the PART gets one that is ALIKE to this one."""
         return raw
 
@@ -35,15 +35,15 @@ class NearHand:
         """The got of the PART by a deed."""
         return ("reply" if deed[0] == "reply" else "failed", deed[1])
 
-    def answered(self, face, raw):
+    def answer_got(self, face, raw):
         """What it gets for a RAW that an export answers."""
         return raw
 
-    def asked_with(self, face, raw):
+    def asking_got(self, face, raw):
         """What it gets for a RAW with which an import is asked."""
         return raw
 
-    def failed_by(self, word):
+    def fail_got(self, word):
         """What it gets for a WORD by which a body of the PART FAILS."""
         return word
 
@@ -59,7 +59,7 @@ class FarHand:
         self.asks_ahead = table[3][1] == "tabled"
         self.lots = dict(likeness(left))
 
-    def sent(self, face, raw):
+    def to_send(self, face, raw):
         """The RAW with which it calls an export so that the PART gets one that is ALIKE to this one."""
         return self.leading(export_of(self.table, face)[1], raw)
 
@@ -98,15 +98,15 @@ class FarHand:
         """The got of the PART by a deed."""
         return came(self.left, self.side, self.table, face, deed)
 
-    def answered(self, face, raw):
+    def answer_got(self, face, raw):
         """What it gets for a RAW that an export answers."""
         return led(self.left, export_of(self.table, face)[2], raw)
 
-    def asked_with(self, face, raw):
+    def asking_got(self, face, raw):
         """What it gets for a RAW with which an import is asked."""
         return led(self.left, import_of(self.table, face)[1], raw)
 
-    def failed_by(self, word):
+    def fail_got(self, word):
         """What it gets for a WORD by which a body of the PART FAILS."""
         return out_word(self.left, self.table, word)
 

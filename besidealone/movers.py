@@ -28,6 +28,12 @@ class Contents:
         """The content of a thing."""
         return thing[:2]
 
+    def took(self, thing, elder):
+        """Where a variable or a cell has a thing now in the place of an elder one: this counts for nothing."""
+
+    def lost(self, elder):
+        """Where a variable doesn't have an elder thing any more: this counts for nothing."""
+
 
 class Mover:
     """A PART, with all that is known of what it does."""

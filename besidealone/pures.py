@@ -81,7 +81,7 @@ class Pure:
         for raw, called, is_inner in list({spec: True for spec in specs}):
             ahead = found.get((raw, called[:-1], is_inner), ())
             if len(called) == 1:
-                value = self.hand.arriving(called[0], self.hand.sent(called[0], raw))
+                value = self.hand.arriving(called[0], self.hand.to_send(called[0], raw))
                 found[raw, called, is_inner] = self.call(called[0], value, is_inner, gots, most)
             elif ahead != () and ahead[0] == "gave":
                 found[raw, called, is_inner] = self.call(called[-1], ahead[1], is_inner, gots, most)
@@ -121,7 +121,7 @@ class Contest:
         self.answers = {name: answers for name, takes, answers in told[0]}
         self.pures = [Pure(left, told, inner, hand, part) for part in parts]
 
-    def sign(self, spec, outcome):
+    def sign_for(self, spec, outcome):
         """What a partner ALONE gets of what a call comes to, () if it doesn't come back to it."""
         if outcome[0] == "answer":
             return ("answer", lot_with(self.lots[self.answers[spec[1][-1]]], outcome[1]))
@@ -134,16 +134,15 @@ class Contest:
     def found(self, specs, gots, most, is_last):
         """The first spec that tells both apart, with what it, and what is ahead of it, come to with the first PART.
 
-        () is returned if there is none.
-
-        What still goes on behind so many STEPS is passed by, unless this is the last try.
+        () is returned if there is none. What still goes on behind so many STEPS is passed by, unless this is the last
+        try.
         """
         one, other = [pure.outcomes(specs, gots, most) for pure in self.pures]
         for spec in specs:
             if () in (one[spec], other[spec]) or (other[spec] == ("on",) and not is_last):
                 continue
-            sign = self.sign(spec, one[spec])
-            if sign != () and sign != self.sign(spec, other[spec]):
+            sign = self.sign_for(spec, one[spec])
+            if sign != () and sign != self.sign_for(spec, other[spec]):
                 raw, called, is_inner = spec
                 return (spec, [one[raw, called[:many + 1], is_inner] for many in range(len(called))])
         return ()
@@ -167,15 +166,15 @@ def chain_row(hand, spec, outcomes):
     thing = -1
     for number, face in enumerate(called):
         outcome = outcomes[number]
-        row.append(("call", face, hand.sent(face, raw) if number == 0 else number - 1))
+        row.append(("call", face, hand.to_send(face, raw) if number == 0 else number - 1))
         if outcome[0] == "gave":
             # A thing that was given comes back as the one that came ahead.
             thing = thing if outcome[2] else number
             row.append(("gave", number, thing))
         elif outcome[0] == "answer":
-            row.append(("answer", hand.answered(face, outcome[1])))
+            row.append(("answer", hand.answer_got(face, outcome[1])))
         else:
-            row.append(("failed", hand.failed_by(outcome[1])))
+            row.append(("failed", hand.fail_got(outcome[1])))
     return row
 
 
@@ -203,5 +202,5 @@ def cases_of(hand, imports, name, takes):
     found = {}
     for face, lot in imports.deeds:
         for raw in lot if face == name else ():
-            found.setdefault(lot_with(lots, hand.asked_with(name, raw))[0], imports.deeds[face, lot])
+            found.setdefault(lot_with(lots, hand.asking_got(name, raw))[0], imports.deeds[face, lot])
     return list(found.items())

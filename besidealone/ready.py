@@ -1,8 +1,9 @@
 """PARTS and PARTNERS made ready to be run: each body is a row of acts."""
 
 from besidealone.acts import NO_THING, answer_act, ask_act, call_act, cell_reader, end_act, fail_act, forget_act
-from besidealone.acts import go_act, guarded_act, if_act, jump_act, let_act, look_act, make_act, name_reader
-from besidealone.acts import one_reader, put_act, raw_reader, same_reader, say_act, two_reader
+from besidealone.acts import go_act, guarded_act, if_act, jump_act, let_act, let_thing_act, look_act, make_act
+from besidealone.acts import name_reader, one_reader, put_act, put_thing_act, raw_reader, same_reader, say_act
+from besidealone.acts import two_reader
 from besidealone.sides import raws_of, rows_of
 
 
@@ -168,9 +169,11 @@ def plain_act(scheme, statement, read):
     """The act of a STATEMENT without blocks whose EXPRESSION is read so."""
     head = statement[0]
     if head == "let":
-        return let_act(scheme.places[statement[1]], read)
+        act = let_thing_act if scheme.kinds[statement[1]] == "thing" else let_act
+        return act(scheme.places[statement[1]], read)
     if head == "put":
-        return put_act(scheme.cell_places[statement[1]], read)
+        act = put_thing_act if scheme.cell_kinds[statement[1]] == "thing" else put_act
+        return act(scheme.cell_places[statement[1]], read)
     if head == "call":
         return call_act(statement[2], read)
     if head == "make":

@@ -25,7 +25,7 @@ def row_by(hand, log):
             row.append(("call", crossing[1], argument_by(hand, crossing[1], crossing[2])))
         elif head == "ask":
             asked = crossing[1]
-            row.append(("ask", asked, hand.asked_with(asked, crossing[2])))
+            row.append(("ask", asked, hand.asking_got(asked, crossing[2])))
         elif head in ("reply", "failed"):
             row.append(hand.deed(asked, crossing))
         else:
@@ -35,15 +35,15 @@ def row_by(hand, log):
 
 def argument_by(hand, face, value):
     """What an export is called with for a left RAW, or for a receipt."""
-    return hand.sent(face, value) if isinstance(value, str) else value
+    return hand.to_send(face, value) if isinstance(value, str) else value
 
 
 def end_by(hand, face, crossing):
     """What the partner gets when a call of an export ends so."""
     if crossing[0] == "answer":
-        return ("answer", hand.answered(face, crossing[1]))
+        return ("answer", hand.answer_got(face, crossing[1]))
     if crossing[0] == "fails":
-        return ("failed", hand.failed_by(crossing[1]))
+        return ("failed", hand.fail_got(crossing[1]))
     return crossing
 
 

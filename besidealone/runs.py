@@ -26,6 +26,12 @@ class Things:
         """Whether two things are one."""
         return one == other
 
+    def took(self, thing, elder):
+        """Where a variable or a cell has a thing now in the place of an elder one; here this counts for nothing."""
+
+    def lost(self, elder):
+        """Where a variable doesn't have an elder thing any more; here this counts for nothing."""
+
 
 class Receipts:
     """The things that have come to the partner, counted from 0, each with its HANDLE."""
@@ -48,6 +54,9 @@ class Receipts:
     def are_same(self, one, other):
         """Whether the HANDLES of two RECEIPTS are one."""
         return self.handles[one] == self.handles[other]
+
+    def took(self, receipt, elder):
+        """Where a variable or a cell has a RECEIPT now in the place of an elder one: this counts for nothing."""
 
 
 class Run:
@@ -75,7 +84,9 @@ class Run:
         """Runs to the end."""
         while self.end == "":
             event = advance(self.frames[-1], self.clock)
-            if event[0] in ("on", "ever"):
+            if event[0] == "on":
+                self.end = self.end_of_steps()
+            elif event[0] in ("ever", "wrong"):
                 self.end = event[0]
             elif event[0] == "say":
                 self.end = event[1]
@@ -85,6 +96,10 @@ class Run:
                 self.go_on_there(event)
             else:
                 self.go_on_here(event)
+
+    def end_of_steps(self):
+        """How the run ends where no STEP is left, "" if there are some again."""
+        return "on"
 
     def go_on_there(self, event):
         """Goes on where a body of the partner calls, answers or FAILS."""

@@ -73,7 +73,7 @@ class Script:
         else:
             self.end_call(at, item)
 
-    def block(self):
+    def rows_now(self):
         """The STATEMENTS that are being written."""
         return self.main if self.ask is None else self.ask.statements
 
@@ -85,7 +85,7 @@ class Script:
     def next_turn(self):
         """Begins a turn; returns its number."""
         if self.has_asks:
-            self.block().append(("put", turn_name(self.turns), YES))
+            self.rows_now().append(("put", turn_name(self.turns), YES))
         self.turns += 1
         return self.turns - 1
 
@@ -128,15 +128,15 @@ class Script:
         target = self.variable(name, answers)
         call = ("call", name, face, given)
         if item[0] == "answer":
-            self.block().append(call)
-            self.block().extend(self.checks(at, answers, item[1], target))
+            self.rows_now().append(call)
+            self.rows_now().extend(self.checks(at, answers, item[1], target))
         elif has(self.side, "catch"):
             word = self.variable(WORD_NAME, "word")
-            self.block().append(("try", (call, FOR_EVER), WORD_NAME, ()))
-            self.block().extend(self.checks(at, "word", item[1], word))
+            self.rows_now().append(("try", (call, FOR_EVER), WORD_NAME, ()))
+            self.rows_now().extend(self.checks(at, "word", item[1], word))
         else:
             # The FAIL goes through the body of the import.
-            self.block().extend([call, FOR_EVER])
+            self.rows_now().extend([call, FOR_EVER])
             self.ask.has_ended = True
 
     def receipt(self, number):
@@ -150,14 +150,14 @@ class Script:
         self.receipts += 1
         if number in self.kept and not self.has_asks:
             target = self.receipt(number)
-            self.block().append(("call", target[1]) + call[2:])
+            self.rows_now().append(("call", target[1]) + call[2:])
         else:
             target = self.variable(THING_NAME, "thing")
-            self.block().append(call)
+            self.rows_now().append(call)
         if number in self.kept and self.has_asks:
-            self.block().append(("put", self.receipt(number)[1], target))
+            self.rows_now().append(("put", self.receipt(number)[1], target))
         if self.only in (-1, at) and has(self.side, "same"):
-            self.block().extend(self.thing_checks(item[2], target))
+            self.rows_now().extend(self.thing_checks(item[2], target))
         self.firsts.setdefault(item[2], number)
 
     def thing_checks(self, thing, target):
@@ -184,15 +184,15 @@ class Script:
         self.asks[ask.face].append((ask.turn, tuple(ask.statements)))
         self.ask = None
 
-    def partner(self, bodies):
+    def written(self, bodies):
         """The PARTNER; bodies tells of imports whose bodies are others."""
         found = []
         for name, takes, answers in self.faces[1]:
             names, statements = bodies.get(name, (self.names[name], self.turns_of(name)))
             found.append(block_of(names, statements))
-        return (self.cells(), block_of(self.names[""], self.main + [SAY_YES]), tuple(found))
+        return (self.all_cells(), block_of(self.names[""], self.main + [SAY_YES]), tuple(found))
 
-    def cells(self):
+    def all_cells(self):
         """The cells of the PARTNER."""
         if not self.has_asks:
             return ()
@@ -265,4 +265,4 @@ def played(side, told, row, only, bodies):
     script = Script(side, told, row, only)
     for at, item in enumerate(row):
         script.play(at, item)
-    return script.partner(bodies)
+    return script.written(bodies)

@@ -86,6 +86,9 @@ class Scope:
             return "truth"
         return (self.kinds if head == "name" else self.cell_kinds)[expression[1]]
 
+    def step(self):
+        self.world.step()
+
     def now(self):
         told = list(self.names.values()) + list(self.cells.values())
         return [self.calls] + [one.receipt if isinstance(one, Held) else one for one in told]
@@ -95,7 +98,7 @@ class Scope:
             yield from self.statement(statement)
 
     def statement(self, statement):
-        self.world.step()
+        self.step()
         head = statement[0]
         if head == "let":
             self.names[statement[1]] = self.value(statement[2])
@@ -139,7 +142,7 @@ class Scope:
             if self.value(statement[1]) == "no":
                 return
             yield from self.block(statement[2])
-            self.world.step()
+            self.step()
 
 
 def led(side, way, raw):
@@ -170,6 +173,9 @@ class Play:
         side = self.left if out else self.right
         return dict(zip(dict(side[0])["word"], self.table[2][0 if out else 1]))[word]
 
+    def scope(self, *told):
+        return Scope(self.world, *told)
+
     def run(self):
         kept = {}
         try:
@@ -179,7 +185,7 @@ class Play:
             return error.args[0], (), ()
         try:
             self.kept = kept
-            main = Scope(self.world, self.there, self.partner[0], self.partner_cells, self.partner[1], None)
+            main = self.scope(self.there, self.partner[0], self.partner_cells, self.partner[1], None)
             self.drive(main, self.export, False)
             end = "end"
         except Failed:
@@ -213,7 +219,7 @@ class Play:
         kept = {}
         for at, (name, out, _) in enumerate(self.table[1]):
             for raw in sorted(set(out[2])):
-                scope = Scope(self.world, self.there, self.partner[0], self.first(self.partner), self.partner[2][at], raw)
+                scope = self.scope(self.there, self.partner[0], self.first(self.partner), self.partner[2][at], raw)
                 try:
                     kept[name, raw] = ("reply", self.drive(scope, refuse, True))
                 except Failed as error:
@@ -231,7 +237,7 @@ class Play:
         if given == "" or (self.waits and self.again == "barred"):
             return self.fail_there(self.table[2][3])
         self.log.append(("call", face, told, self.waits))
-        scope = Scope(self.world, self.left, self.part[0], self.part_cells, self.part[1][at], given)
+        scope = self.scope(self.left, self.part[0], self.part_cells, self.part[1][at], given)
         try:
             answer = self.drive(scope, self.inner if self.waits else self.ask, True)
         except Failed as error:
@@ -275,7 +281,7 @@ class Play:
             head, got = self.kept[face, asked]
         else:
             self.seen.append(("ask", face, asked))
-            scope = Scope(self.world, self.there, self.partner[0], self.partner_cells, self.partner[2][at], asked)
+            scope = self.scope(self.there, self.partner[0], self.partner_cells, self.partner[2][at], asked)
             self.waits = True
             try:
                 head, got = "reply", self.drive(scope, self.export, True)

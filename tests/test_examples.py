@@ -11,7 +11,7 @@ class Examples(unittest.TestCase):
 
     def test_examples(self):
         names = sorted(os.listdir(FOLDER))
-        self.assertEqual(names, sorted([f"stage{number}.txt" for number in range(1, 14)]))
+        self.assertEqual(names, sorted([f"stage{number}.txt" for number in range(1, 17)]))
         for name in names + [os.path.join("..", "..", "README.md")]:
             with self.subTest(name):
                 failed, tried = doctest.testfile(os.path.join(FOLDER, name), module_relative=False)

@@ -44,6 +44,16 @@ TOLD = {
               "is_mended_out(left, right, way, wish, thing)", "is_mended_into(left, right, way, thing)"],
     "chains": ["do_fit(left, middle, right, one, other)", "put_together(left, middle, right, one, other)",
                "lost_between(left, middle, right, one, other)"],
+    "books": ["is_book(thing)", "is_safe(book)"],
+    "heaps": ["new_heaps()", "can_come(heaps, thing)", "is_wrong_row(book, thing)", "behind(book, heaps, event)", "wrong_row(book)"],
+    "heapruns": ["is_collector(thing)", "run_on_heaps(left, right, table, part, partner, book, collector, most)"],
+}
+CLASSES = {
+    "house": ("House(left, right, table)", ["sides()", "table()", "parts()", "partners(where)", "twin()", "put_part(name, part)",
+                                            "put_partner(where, name, partner)", "drop_part(name)", "drop_partner(where, name)", "exchange(table)",
+                                            "undo()", "run(where, part, partner, most)", "ends(where, most)", "parted(where, most)", "faults()",
+                                            "compare(where, one, other)", "__eq__(other)"]),
+    "desk": ("Desk(left, right, table)", ["house()", "execute(text)"]),
 }
 
 
@@ -59,6 +69,23 @@ class Interface(unittest.TestCase):
                 name = line.split("(")[0]
                 self.assertIn(name, defined)
                 self.assertEqual(name + str(inspect.signature(getattr(found, name))), line)
+
+    def test_classes(self):
+        for module, (line, methods) in CLASSES.items():
+            found = getattr(importlib.import_module("besidealone." + module), line.split("(")[0])
+            self.assertEqual(found.__name__ + str(inspect.signature(found)), line)
+            self.assertEqual(found.__module__, "besidealone." + module)
+            for told in methods:
+                method = vars(found)[told.split("(")[0]]
+                names = list(inspect.signature(method).parameters)
+                self.assertEqual(names[0], "self")
+                self.assertEqual(f"{told.split('(')[0]}({', '.join(names[1:])})", told)
+
+    def test_all_of_the_document(self):
+        # errors, and all modules up to the desk.
+        files = {name[:-3] for name in os.listdir(FOLDER) if name.endswith(".py")}
+        self.assertTrue(set(TOLD) | set(CLASSES) | {"errors", "__init__"} <= files)
+        self.assertEqual(len(TOLD) + len(CLASSES), 27)
 
 
 if __name__ == "__main__":

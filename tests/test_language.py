@@ -56,7 +56,7 @@ class Language(unittest.TestCase):
                                   and isinstance(inner, ast.FunctionDef)]}
             for node in ast.walk(tree_of(name)):
                 if isinstance(node, (ast.FunctionDef, ast.ClassDef)) and (node.lineno, node.name) not in within:
-                    self.assertTrue(ast.get_docstring(node) or node.name == "__init__", (name, node.name))
+                    self.assertTrue(ast.get_docstring(node) or node.name in ("__init__", "__eq__"), (name, node.name))
                 if isinstance(node, ast.FunctionDef):
                     self.assertLessEqual(node.end_lineno - node.lineno + 1, 40, (name, node.name))
 
@@ -71,7 +71,9 @@ class Language(unittest.TestCase):
         seen = []
         for name in FILES:
             for node in ast.walk(tree_of(name)):
-                if isinstance(node, ast.ImportFrom):
+                if isinstance(node, ast.ImportFrom) and node.module == "heapq":
+                    self.assertLessEqual({own.name for own in node.names}, {"heappop", "heappush", "heapify"})
+                elif isinstance(node, ast.ImportFrom):
                     self.assertRegex(node.module, r"^besidealone\.[a-z]+$")
                     made = tree_of(node.module.split(".")[1] + ".py")
                     for own in node.names:
