@@ -1,7 +1,6 @@
 """What a right PARTNER tells apart is brought back to the left SIDE."""
 
-from besidealone.beside import run_beside
-from besidealone.breaks import parting
+from besidealone.breaks import parted_logs
 from besidealone.errors import Nothing, NotRight
 from besidealone.hands import NearHand
 from besidealone.pures import Contest, bodies_for, chain_row, telling_call
@@ -32,11 +31,10 @@ def brought_back(left, right, table, one, other, partner, most):
     faults = tight_faults(left, right, table)
     if faults != ():
         raise NotRight(faults)
-    which = parting(left, right, table, "beside", one, other, partner, most)
-    if which is None:
+    told_apart = parted_logs(left, right, table, "beside", (one, other), partner, most)
+    if told_apart == ():
         raise Nothing()
-    parts = (one, other) if which == "one" else (other, one)
-    logs = [run_beside(left, right, table, part, partner, most)[1] for part in parts]
+    parts, logs = told_apart
     hand = NearHand(left, table)
     if has(left, "keep") or table[1] == ():
         at = apart_at(left, table, logs[0], logs[1])

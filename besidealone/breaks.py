@@ -21,17 +21,32 @@ STEPS = 2000
 
 def parting(left, right, table, where, one, other, partner, most):
     """The PART, "one" or "other", with which a run says YES if the PARTNER parts both within so many STEPS, or None."""
-    ends = [end_of_run(left, right, table, where, part, partner, most) for part in (one, other)]
-    if "on" in ends or (ends[0] == "yes") == (ends[1] == "yes"):
+    ends = [run_at(left, right, table, where, part, partner, most)[0] for part in (one, other)]
+    return parted_by(ends[0], ends[1])
+
+
+def parted_by(one, other):
+    """The PART, "one" or "other", that runs with these ends part from the other one, or None."""
+    if "on" in (one, other) or (one == "yes") == (other == "yes"):
         return None
-    return "one" if ends[0] == "yes" else "other"
+    return "one" if one == "yes" else "other"
 
 
-def end_of_run(left, right, table, where, part, partner, most):
-    """How a run at a WHERE ends."""
+def run_at(left, right, table, where, part, partner, most):
+    """How a run at a WHERE ends, and its CROSSINGS."""
     if where == "alone":
-        return run_alone(left, table, part, partner, most)[0]
-    return run_beside(left, right, table, part, partner, most)[0]
+        return run_alone(left, table, part, partner, most)
+    return run_beside(left, right, table, part, partner, most)[:2]
+
+
+def parted_logs(left, right, table, where, parts, partner, most):
+    """Two PARTS, the one with which a PARTNER says yes first, and the logs of their runs; () if they aren't parted."""
+    runs = [run_at(left, right, table, where, part, partner, most) for part in parts]
+    which = parted_by(runs[0][0], runs[1][0])
+    if which is None:
+        return ()
+    order = (0, 1) if which == "one" else (1, 0)
+    return ([parts[at] for at in order], [runs[at][1] for at in order])
 
 
 def breaking(left, right, table, fault):

@@ -209,10 +209,6 @@ def shown_event(event):
     return " ".join(told)
 
 
-# What a word in the place of one of these has to be; NAME and NUMBER are told apart by their letters.
-SLOTS = {"WHERE": WHERES, "SIDE": SIDES, "WISH": WISHES, "FIGURE": FIGURES, "WAY": WAYS, "STRIKE": STRIKES,
-         "FIND": FINDS, "DRAIN": DRAINS, "HOLD": HOLDS}
-
 FORMS = {
     "part NAME TEXT": do_part, "partner WHERE NAME TEXT": do_partner,
     "drop part NAME": do_drop_part, "drop partner WHERE NAME": do_drop_partner,
@@ -237,7 +233,9 @@ def fits_slot(slot, word):
         return is_name(word)
     if slot == "NUMBER":
         return is_number(word)
-    return word in SLOTS[slot] if is_slot(slot) else word == slot
+    words = {"WHERE": WHERES, "SIDE": SIDES, "WISH": WISHES, "FIGURE": FIGURES, "WAY": WAYS, "STRIKE": STRIKES,
+             "FIND": FINDS, "DRAIN": DRAINS, "HOLD": HOLDS}
+    return word in words.get(slot, (slot,))
 
 
 def form_of(words, behind):

@@ -2,6 +2,7 @@
 
 from besidealone.alone import run_alone
 from besidealone.beside import run_beside
+from besidealone.breaks import parted_by
 from besidealone.compared import compared
 from besidealone.errors import NoName, Nothing, Wrong
 from besidealone.faithful import faithful_faults
@@ -172,7 +173,8 @@ class House:
         found = []
         for one in sorted(self._parts):
             for other in sorted(self._parts):
-                if one < other and any([are_parted(ends[one, own], ends[other, own]) for own in partners]):
+                found_by = [parted_by(ends[one, own], ends[other, own]) for own in partners]
+                if one < other and any(found_by):
                     found.append((one, other))
         return tuple(found)
 
@@ -204,11 +206,6 @@ def need_name(room, name):
 def have_same_faces(one, other):
     """Whether two TABLES have the same FACES on either side."""
     return faces(one) == faces(other) and right_faces(one) == right_faces(other)
-
-
-def are_parted(one, other):
-    """Whether two ends are such that a PARTNER has parted two PARTS."""
-    return "on" not in (one, other) and (one == "yes") != (other == "yes")
 
 
 def has_things(table):

@@ -1,8 +1,7 @@
 """What a left PARTNER tells apart is led over to the right SIDE."""
 
-from besidealone.alone import run_alone
 from besidealone.beside import run_beside
-from besidealone.breaks import parting
+from besidealone.breaks import parted_logs
 from besidealone.errors import Nothing, NotRight
 from besidealone.faithful import faithful_faults
 from besidealone.hands import FarHand
@@ -24,11 +23,10 @@ def led_over(left, right, table, one, other, partner, most):
     faults = faithful_faults(left, right, table)
     if faults != ():
         raise NotRight(faults)
-    which = parting(left, right, table, "alone", one, other, partner, most)
-    if which is None:
+    told_apart = parted_logs(left, right, table, "alone", (one, other), partner, most)
+    if told_apart == ():
         raise Nothing()
-    parts = (one, other) if which == "one" else (other, one)
-    logs = [run_alone(left, table, part, partner, most)[1] for part in parts]
+    parts, logs = told_apart
     hand = FarHand(left, right, table)
     if has(left, "keep") or table[1] == ():
         at = apart_at(left, table, logs[0], logs[1])

@@ -346,7 +346,8 @@ def varied(seed, own, program):
     source = random.Random(seed)
     lots = dict(likeness(own))
     way = source.random()
-    places = list(raw_places(program))
+    # A cell of things may be called raw.
+    places = [path for path in raw_places(program) if at_path(program, path)[1] in lots]
     if way < 0.6 and places:
         path = source.choice(places)
         _, kind, raw = at_path(program, path)
