@@ -169,7 +169,7 @@ class Chains(unittest.TestCase):
             plain = read_table(side, side, text + self.WORDS)
             for modes in itertools.product(MODES, MODES):
                 count += 1
-                if count % 1201 == 0:
+                if count % 797 == 0:
                     self.check_lost(left, middle, right, *[with_modes(plain, own) for own in modes], met)
         self.assertGreater(min(met["tight"], met["faithful"]), 200)
         for fault in (("T4",), ("T5",), ("F6",)):
