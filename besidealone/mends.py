@@ -46,7 +46,7 @@ def place_of(lots, raw):
 
 def staying_counts(left, way, lots, ends):
     """For each CLASS where a WAY begins a list of how many of its RAWS it leads to each CLASS where it ends."""
-    counts = [[0 for _ in ends] for _ in lots]
+    counts = [[0] * len(ends) for _ in lots]
     for at, lot in enumerate(lots):
         for raw in lot:
             counts[at][place_of(ends, led(left, way, raw))] += 1
@@ -61,7 +61,7 @@ def mended_out(left, right, way, wish):
         lefts = [max(row) for row in counts]
         homes = [row.index(top) for row, top in zip(counts, lefts)]
         owners = [[at] for at in homes]
-        rights = [0 for _ in ends]
+        rights = [0] * len(ends)
     elif len(lots) > len(ends):
         return None
     else:
@@ -76,7 +76,7 @@ def mended_out(left, right, way, wish):
 
 def shared_out(counts, columns, wish):
     """A CLASS on the right of its own for each left one, all that each left one has, and the PAPER's integers."""
-    tops = [0 for _ in range(columns)]
+    tops = [0] * columns
     if wish == "faithful":
         # What no left CLASS needs falls to the one that has most RAWS there.
         tops = [max([row[at] for row in counts]) for at in range(columns)]

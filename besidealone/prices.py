@@ -10,16 +10,16 @@ class Prices:
 
     def __init__(self, costs, columns):
         self.costs = costs
-        self.rows = [0 for _ in costs]
-        self.columns = [0 for _ in range(columns)]
+        self.rows = [0] * len(costs)
+        self.columns = [0] * columns
         # The row that each column has, -1 if it has none.
-        self.owners = [-1 for _ in range(columns)]
+        self.owners = [-1] * columns
 
     def put_in(self, row):
         """Has one row more have a column."""
         # How much cheaper each column must become to be reached, and from which column it is reached, -1: from the row.
         gaps = [self.costs[row][column] - self.rows[row] - price for column, price in enumerate(self.columns)]
-        ahead = [-1 for _ in gaps]
+        ahead = [-1] * len(gaps)
         reached = []
         owner = row
         while owner >= 0:

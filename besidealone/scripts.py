@@ -177,7 +177,7 @@ class Script:
         """Ends the turn of an import."""
         ask = self.ask
         if not ask.has_ended:
-            # What an INNER call ends without a turn's end can't be gone on from.
+            # Where an INNER call FAILS, by another PART, this turn doesn't come, and so no later one does.
             if ask.calls_again:
                 self.next_turn()
             ask.statements.append(deed_statement(self.replies[ask.face], deed))
