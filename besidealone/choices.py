@@ -23,12 +23,8 @@ class Choices:
         self.sight = sight
         self.movers = movers
         self.tokens = tokens
-        # For each import the couples of lots out of which it takes what it does with one and with other; for each such
-        # couple the INNER call that tells it which PART it is, () if none does.
+        # For each import the couples of lots out of which it takes what it does with one and with other.
         self.lots = {}
-        self.inner = {}
-        # The call of main, the choice and the outcomes by which both PARTS come apart.
-        self.apart = ()
 
     def holds(self):
         """Whether the PAPER of these tokens, or the least one that begins with them, is one."""
@@ -38,8 +34,7 @@ class Choices:
             told = self.inner_calls()
             if told is None:
                 return False
-            self.inner = {name: self.lots_of(name, told) for name in self.sight.narrow}
-            self.lots = {name: list(self.inner[name]) for name in self.inner}
+            self.lots = {name: self.lots_of(name, told) for name in self.sight.narrow}
             for face, couple in self.all_calls():
                 if not self.call_main(face, couple):
                     return False
@@ -58,20 +53,16 @@ class Choices:
         return [self.movers[which].begin(face, couple[which], (), is_inner) for which in (0, 1)]
 
     def inner_calls(self):
-        """All couples of what INNER calls that tell the PARTS apart have an import do, each with the first such call.
-
-        None is returned if no PAPER can hold.
-        """
+        """All couples of what INNER calls that tell the PARTS apart have an import do; None if no PAPER can hold."""
         told = {}
         for face, couple in self.all_calls() if self.sight.calls_again else []:
             outcomes = self.begun(face, couple, True)
             found = [sign_of(self.sight, outcome, True) for outcome in outcomes]
             if found[0] != found[1] or found[0][0] == "unseen":
-                follows = tuple([self.follows(sign, outcome) for sign, outcome in zip(found, outcomes)])
-                told.setdefault(follows, (face, couple))
+                told[tuple([self.follows(sign, outcome) for sign, outcome in zip(found, outcomes)])] = True
             elif found[0] == ("thing",) and not is_taken(self.sight, self.tokens, outcomes, True):
                 return None
-        return told
+        return list(told)
 
     def follows(self, sign, outcome):
         """What an import does behind an INNER call of which this is SEEN."""
@@ -80,14 +71,14 @@ class Choices:
         return WAIT if sign[0] == "ends" else ANY
 
     def lots_of(self, name, told):
-        """All couples of lots of what an import may do, one of them for all ALIKE RAWS, each with its INNER call."""
+        """All couples of lots of what an import may do, one of them for all ALIKE RAWS."""
         waiting = [(WAIT,)] if self.sight.may_wait else []
-        found = {(lot, lot): () for lot in self.sight.narrow[name] + waiting}
-        for (first, second), call in told.items():
+        found = {(lot, lot): True for lot in self.sight.narrow[name] + waiting}
+        for first, second in told:
             for one in self.sight.broad[name] + waiting if first == ANY else [(first,)]:
                 for other in self.sight.broad[name] + waiting if second == ANY else [(second,)]:
-                    found.setdefault((one, other), call)
-        return found
+                    found[one, other] = True
+        return list(found)
 
     def call_main(self, face, couple):
         """Whether the same is SEEN of a call of main with both PARTS, for all choices."""
@@ -104,33 +95,13 @@ class Choices:
                 if many > MOST:
                     raise TooMany(MOST)
                 waiting.extend(found)
-            elif not self.is_same(outcomes):
-                self.apart = (face, couple, choice, outcomes)
+            elif not self.is_same(outcomes) and not self.go_apart(face, couple, choice):
                 return False
         return True
 
-    def least_apart(self):
-        """The call of main, the choice that takes the fewest turns, and the outcomes by which both PARTS come apart."""
-        waiting = [(face, couple, {}) for face, couple in self.all_calls()]
-        at = 0
-        while at < len(waiting) and len(waiting) <= MOST:
-            face, couple, choice = waiting[at]
-            outcomes = [self.follow(which, self.begun(face, couple, False)[which], choice) for which in (0, 1)]
-            asking = [which for which in (0, 1) if outcomes[which][0] == "ask"]
-            if asking:
-                waiting.extend([(face, couple, new) for new in self.taken(choice, asking[0], outcomes[asking[0]])])
-            elif not self.is_same(outcomes):
-                return (face, couple, choice, outcomes)
-            at += 1
-        # There are many choices: the one that was found first has to do.
-        return self.apart
-
-    def settle(self):
-        """Has both PARTS come apart by a choice that takes the fewest turns."""
-        try:
-            self.apart = self.least_apart()
-        except TooMany:
-            return
+    def go_apart(self, face, couple, choice):
+        """Whether the PAPER may hold where not the same is SEEN of a call of main by a choice."""
+        return False
 
     def follow(self, which, outcome, choice):
         """What main's call comes to with a PART, or the ask at which the choice has to be taken."""

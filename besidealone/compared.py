@@ -1,19 +1,41 @@
 """Given PARTS compared: a PAPER that they are ALIKE, or a PARTNER that parts them."""
 
-from besidealone.apart import partner_by, tries_of
+from besidealone.apart import Finder
 from besidealone.breaks import parting
 from besidealone.choices import Choices
 from besidealone.errors import Nothing, TooMany
 from besidealone.forms import is_row
 from besidealone.hands import hand_at
+from besidealone.picks import look_by_picks
 from besidealone.programs import is_partner
 from besidealone.relations import is_paper, looked_for
 from besidealone.sides import has
 from besidealone.tables import ways_of
 from besidealone.tight import split, split_words
 
-# Within how many STEPS a PARTNER parts both PARTS.
+# Within how many STEPS a PARTNER parts both PARTS, and the most PARTNERS that are tried out.
 STEPS = 200000
+TRIES = 20
+
+
+class Trial:
+    """Tries out PARTNERS for two PARTS at a WHERE, and has the one that parts them, if any."""
+
+    def __init__(self, sides, table, where, parts):
+        self.sides = sides
+        self.table = table
+        self.where = where
+        self.parts = parts
+        self.tries = 0
+        self.partner = ()
+
+    def is_done(self, partner):
+        """Whether no more has to be tried behind a PARTNER: it parts both PARTS, or there were many."""
+        self.tries += 1
+        (left, right), (one, other) = self.sides, self.parts
+        if parting(left, right, self.table, self.where, one, other, partner, STEPS) is not None:
+            self.partner = partner
+        return self.partner != () or self.tries == TRIES
 
 
 def compared(left, right, table, where, one, other):
@@ -23,16 +45,15 @@ def compared(left, right, table, where, one, other):
     shown, judge = looked_for(left, right, table, where, one, other)
     if shown is not None:
         return ("alike", shown)
-    if isinstance(judge, Choices):
-        judge.settle()
     hand = hand_at(left, right, table, where)
-    tried = []
-    for which, whose in tries_of(judge):
-        partner = partner_by(hand, judge, which, whose)
-        if partner not in tried and parting(left, right, table, where, one, other, partner, STEPS) is not None:
-            return ("parted", partner)
-        tried.append(partner)
-    raise TooMany(STEPS)
+    trial = Trial((left, right), table, where, (one, other))
+    if isinstance(judge, Choices):
+        look_by_picks(hand, judge, trial)
+    else:
+        Finder(hand, judge, trial).look_through()
+    if trial.partner == ():
+        raise TooMany(STEPS)
+    return ("parted", trial.partner)
 
 
 def is_unasked(left, right, table, where, one, other):

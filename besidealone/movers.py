@@ -72,15 +72,22 @@ class Mover:
 
     def resumed(self, place, cells, got):
         """The same, worked out."""
+        frame = self.frame_behind(place, cells, got, self.maker(False))
+        if frame is None:
+            return ("fails", got[1], cells)
+        return self.lead(place[0], frame, False)
+
+    def frame_behind(self, place, cells, got, things):
+        """The body that waits at a place behind an import's call, which gives this; None if it FAILS."""
         face, at, held = place
-        frame = Frame(self.program.bodies[face], list(cells), self.maker(False))
+        frame = Frame(self.program.bodies[face], list(cells), things)
         frame.at = at
         frame.held = list(held)
         if got[0] == "reply":
             give(frame, got[1])
         elif not catch(frame, got[1]):
-            return ("fails", got[1], cells)
-        return self.lead(face, frame, False)
+            return None
+        return frame
 
     def maker(self, is_inner):
         """What makes things in a call."""

@@ -128,7 +128,7 @@ class Script:
         target = self.variable(name, answers)
         call = ("call", name, face, given)
         if item[0] == "answer":
-            self.rows_now().append(call)
+            self.rows_now().append(self.answering(at, call))
             self.rows_now().extend(self.checks(at, answers, item[1], target))
         elif has(self.side, "catch"):
             word = self.variable(WORD_NAME, "word")
@@ -138,6 +138,13 @@ class Script:
             # The FAIL goes through the body of the import.
             self.rows_now().extend([call, FOR_EVER])
             self.ask.has_ended = True
+
+    def answering(self, at, call):
+        """The STATEMENT for a call that has to answer."""
+        if self.ask is None or self.only not in (-1, at) or not has(self.side, "catch"):
+            return call
+        # A FAIL that isn't caught here goes on to the PART, which may catch it and go on without an end.
+        return going_on(call, self.variable(WORD_NAME, "word")[1])
 
     def receipt(self, number):
         """A thing that came, as an EXPRESSION."""
@@ -153,7 +160,7 @@ class Script:
             self.rows_now().append(("call", target[1]) + call[2:])
         else:
             target = self.variable(THING_NAME, "thing")
-            self.rows_now().append(call)
+            self.rows_now().append(self.answering(at, call))
         if number in self.kept and self.has_asks:
             self.rows_now().append(("put", self.receipt(number)[1], target))
         if self.only in (-1, at) and has(self.side, "same"):
@@ -214,6 +221,16 @@ def checks_by(chosen, expression):
         blocks = ((), (FOR_EVER,)) if truth == "yes" else ((FOR_EVER,), ())
         found.append(("if", filled(told, expression)) + blocks)
     return found
+
+
+def checks_for(side, kind, raw, expression):
+    """STATEMENTS that go on for ever where an EXPRESSION gives no RAW ALIKE to this one."""
+    return checks_by(choice(side, kind, raw), expression)
+
+
+def going_on(call, name):
+    """The STATEMENT that goes on for ever where a call FAILS, by a variable for the WORD."""
+    return ("try", (call,), name, (FOR_EVER,))
 
 
 def variable_for(side, kind):

@@ -152,8 +152,6 @@ class Walk:
         self.done = []
         self.known = {}
         self.apart = {}
-        # Which ones of both PARTS come back to main where not the same is SEEN.
-        self.backs = [False, False]
         self.singles = self.new_singles()
         for couple in states:
             self.add_state(couple)
@@ -272,9 +270,8 @@ class Walk:
 
     def stays_away(self, places, outcomes):
         """Whether neither PART comes back to main behind these outcomes."""
-        self.backs = [self.singles[which].comes_back(places[which], outcomes[which], self.tokens.of(which))
-                      for which in (0, 1)]
-        return not any(self.backs)
+        return not any([self.singles[which].comes_back(places[which], outcomes[which], self.tokens.of(which))
+                        for which in (0, 1)])
 
     def way_apart(self):
         """The moves that lead both PARTS to where they come apart."""

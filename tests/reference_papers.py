@@ -10,8 +10,8 @@ from tests.reference_runs import Answered, Ended, Failed, Scope, Thing, World, l
 class Makers(World):
     """A world whose things know which call made them."""
 
-    def __init__(self):
-        super().__init__(3000)
+    def __init__(self, most):
+        super().__init__(most)
         self.maker = "main"
 
     def make(self, content):
@@ -32,6 +32,10 @@ def state_of(cells):
 
 class Judge:
     """A partner at a WHERE, and two PARTS; most is how many replies and INNER calls stand in a row."""
+
+    # What is told of a PART that goes on for ever, or for too long, behind so many STEPS.
+    ends = {"ever": ("ends",), "on": ("ends",)}
+    steps = 3000
 
     def __init__(self, left, right, table, where, parts, most):
         self.left, self.right, self.table, self.parts, self.most = left, right, table, parts, most
@@ -92,7 +96,7 @@ class Judge:
     def play(self, which, state, face, given, script):
         """What a PART does behind a row; the last INNER call's end, if the row ends with one."""
         part = self.parts[which]
-        world = Makers()
+        world = Makers(self.steps)
         cells = {}
         for (name, kind, _), value in zip(part[0], state):
             cells[name] = (old(value) if value else None) if kind == "thing" else value
@@ -133,8 +137,10 @@ class Judge:
             return "answer", error.args[0]
         except Failed as error:
             return "fails", error.args[0]
-        except (Ended, StopIteration):
+        except StopIteration:
             return ("ends",)
+        except Ended as error:
+            return self.ends[error.args[0]]
 
     # What is SEEN.
 
@@ -218,10 +224,10 @@ class Judge:
         """Main's call, behind a row of replies and INNER calls the last one of which is a reply."""
         told, states = self.both(couple, face, given, scripts)
         if not self.same(face, False, *told):
-            return not any(self.comes_back(which, couple[which], face, given[which], scripts[which], (), told[which], most)
-                           for which in (0, 1))
+            return self.stays_away(told, [self.comes_back(which, couple[which], face, given[which], scripts[which], (),
+                                                          told[which], most) for which in (0, 1)])
         head = self.sight(told[0], False)[0]
-        if head == "ends":
+        if head in ("ends", "on"):
             return True
         if head == "ask":
             return self.wait(couple, face, given, scripts, told[0][1], most)
@@ -241,8 +247,10 @@ class Judge:
                 new = tuple([scripts[which] + (("inner", inner, values[which]),) for which in (0, 1)])
                 told, _ = self.both(couple, face, given, new)
                 if not self.same(inner, True, *told):
-                    if any(self.inner_back(which, couple[which], face, given[which], new[which], (), told[which], most - 1)
-                           for which in (0, 1)):
+                    backs = [self.inner_back(which, couple[which], face, given[which], new[which], (), told[which], most - 1)
+                             for which in (0, 1)]
+                    behind = [self.behind(which, couple[which], face, given[which], new[which], told[which]) for which in (0, 1)]
+                    if not self.stays_away(behind, backs):
                         return False
                     continue
                 head = self.sight(told[0], True)[0]
@@ -250,12 +258,22 @@ class Judge:
                     fails = tuple([new[which] + (("got", "failed", self.back(told[which][1])),) for which in (0, 1)])
                     if not self.walk(couple, face, given, fails, most - 1):
                         return False
-                elif head != "ends":
+                elif head not in ("ends", "on"):
                     if len(told[0]) == 3 and not self.takes(told):
                         return False
                     if not self.wait(couple, face, given, new, name, most - 1):
                         return False
         return True
+
+    def stays_away(self, told, backs):
+        """Whether there may be a PAPER where not the same is SEEN; told is what both do, backs whether they come back."""
+        return not any(backs)
+
+    def behind(self, which, state, face, given, script, told):
+        """What a PART does behind an INNER call, by itself if its FAIL isn't SEEN."""
+        if self.sight(told, True)[0] != "unseen":
+            return told
+        return self.play(which, state, face, given, script + (("got", "failed", self.back(told[1])),))[0]
 
     def comes_back(self, which, state, face, given, script, came, told, most):
         """Whether a PART alone comes back to main behind what it does in main's call."""
@@ -286,7 +304,7 @@ class Judge:
             new = script + (("got", "failed", self.back(told[1])),)
             told, _ = self.play(which, state, face, given, new)
             return self.comes_back(which, state, face, given, new, came, told, most)
-        if head == "ends":
+        if head in ("ends", "on"):
             return False
         if len(told) == 3:
             came = came + (told[1],)
@@ -307,7 +325,7 @@ class Judge:
 
     def inner_alone(self, which, face, value):
         """What an INNER call does with a PART that has no cells."""
-        world, part = Makers(), self.parts[which]
+        world, part = Makers(self.steps), self.parts[which]
         going, told = self.begun(world, part, {}, face, value)
         while told[0] == "ask":
             told = self.advance(going.throw, Failed(self.table[2][4]))
@@ -362,7 +380,7 @@ class Judge:
                     if heads[which] == "unseen":
                         lots.append([frozenset([("got", "failed", self.back(told[which][1]))])])
                     else:
-                        lots.append([frozenset(["wait"])] if heads[which] == "ends" else broad + waiting)
+                        lots.append({"ends": [frozenset(["wait"])], "on": [frozenset(["on"])]}.get(heads[which], broad + waiting))
                 found |= set(itertools.product(*lots))
         del singles
         return sorted(found, key=repr)
@@ -385,11 +403,11 @@ class Judge:
                             if not self.choose(face, given, {**choice, group: option, key: got}):
                                 return False
                     return True
-                if choice[key] == "wait":
-                    now = ("ends",)
+                if choice[key] in ("wait", "on"):
+                    now = ("ends",) if choice[key] == "wait" else self.ends["on"]
                     break
                 script += (choice[key],)
-            told.append(("ends",) if now[0] == "ask" else now)
+            told.append(self.ends["on"] if now[0] == "ask" else now)
         if not self.same(face, False, *told):
-            return False
+            return self.stays_away(told, [one[0] == "answer" or (one[0] == "fails" and self.sees_fails) for one in told])
         return len(told[0]) != 3 or told[0][0] != "answer" or self.takes(told)
