@@ -4,12 +4,16 @@ which tells the PART, 0 or 1, with which such a PARTNER says yes. Where both are
 those of the other one, so that this one does just what the Walk tells.
 """
 
+from heapq import heappop, heappush
+
 from besidealone.endless import Endings
 from besidealone.errors import TooMany
 from besidealone.scripts import played
 from besidealone.sights import sign_of
 from besidealone.walks import Tokens, Walk
 
+# About how many STEPS a partner takes for a move.
+OWN = 15
 # The most ways by which both PARTS come apart that are passed by as one of them goes on without an end.
 ENOUGH = 1000
 
@@ -83,12 +87,16 @@ class Finder(Walk):
     def look_through(self):
         """Goes through them."""
         try:
-            at = 0
-            while at < len(self.rows) and self.lead_on(at):
-                at += 1
+            self.lead_all()
         except TooMany:
             # What is left is more than what is looked at.
             return
+
+    def lead_all(self):
+        """Leads both PARTS on, row by row, until nothing has to be looked for any more."""
+        at = 0
+        while at < len(self.rows) and self.lead_on(at):
+            at += 1
 
     def go_apart(self, places, outcomes):
         """What follows where not the same is SEEN: whether more has to be looked for."""
@@ -112,17 +120,23 @@ class Finder(Walk):
 
     def is_endless(self, which):
         """Whether a PART goes on without an end behind the last move."""
+        return self.endings[which].is_endless(self.asked_of(which)[-1])
+
+    def asked_of(self, which):
+        """What Endings are asked for of what a PART does behind the last move."""
         at, move = self.now
-        row, endings = self.rows[at], self.endings[which]
+        row = self.rows[at]
         if row[0] == "main":
-            return endings.is_endless_call(move[1], move[2][which], row[1][which], False)
+            return [(move[1], move[2][which], row[1][which], False)]
         place, cells = row[1 + which]
         if move[0] == "got":
-            return endings.is_endless_behind(place, cells, move[1][which])
+            return [(place, cells, move[1][which])]
+        asked = [(move[1], move[2][which], cells, True)]
         outcome = self.movers[which].begin(move[1], move[2][which], cells, True)
         if sign_of(self.sight, outcome, True)[0] == "unseen":
-            return endings.is_endless_behind(place, outcome[2], ("failed", self.sight.back[outcome[1]]))
-        return endings.is_endless_call(move[1], move[2][which], cells, True)
+            # Its import FAILS, too.
+            asked.append((place, outcome[2], ("failed", self.sight.back[outcome[1]])))
+        return asked
 
     def partner_for(self, which):
         """The PARTNER that makes the moves, looks at what comes apart, and leads the one PART back to main."""
@@ -133,3 +147,37 @@ class Finder(Walk):
         for move in self.back:
             player.move(move)
         return played(self.hand.side, self.hand.faces, player.row, at, {})
+
+
+class Saver(Finder):
+    """Goes through the rows by the STEPS that they take, those with the fewest first."""
+
+    def __init__(self, hand, walk, trial):
+        # For each row that is led on the STEPS up to there, and its index.
+        self.costs = {}
+        self.places = {}
+        self.queue = []
+        super().__init__(hand, walk, trial)
+
+    def add_row(self, row):
+        """Has a couple of states, or of what both PARTS do, be led on, or be reached by fewer STEPS."""
+        cost = 0 if self.now[0] < 0 else self.costs[self.rows[self.now[0]]] + self.steps_of_move()
+        if row in self.costs and self.costs[row] <= cost:
+            return
+        super().add_row(row)
+        self.costs[row] = cost
+        place = self.places.setdefault(row, len(self.rows) - 1)
+        self.moves[place] = self.now
+        heappush(self.queue, (cost, place))
+
+    def steps_of_move(self):
+        """The STEPS that the last move takes with the PART with which it takes more, and those of the partner."""
+        steps = [sum([self.endings[which].steps_for(asked) for asked in self.asked_of(which)]) for which in (0, 1)]
+        return max(steps[0], steps[1]) + OWN
+
+    def lead_all(self):
+        """Leads both PARTS on, row by row, until nothing has to be looked for any more."""
+        is_on = True
+        while self.queue and is_on:
+            place = heappop(self.queue)[1]
+            is_on = self.lead_on(place)

@@ -1,6 +1,6 @@
 """Given PARTS compared: a PAPER that they are ALIKE, or a PARTNER that parts them."""
 
-from besidealone.apart import Finder
+from besidealone.apart import Finder, Saver
 from besidealone.breaks import parting
 from besidealone.choices import Choices
 from besidealone.errors import Nothing, TooMany
@@ -15,7 +15,7 @@ from besidealone.tight import split, split_words
 
 # Within how many STEPS a PARTNER parts both PARTS, and the most PARTNERS that are tried out.
 STEPS = 200000
-TRIES = 20
+TRIES = 5
 
 
 class Trial:
@@ -51,6 +51,10 @@ def compared(left, right, table, where, one, other):
         look_by_picks(hand, judge, trial)
     else:
         Finder(hand, judge, trial).look_through()
+        if trial.partner == () and trial.tries > 0:
+            # There are PARTNERS, but the shortest rows take too many STEPS.
+            trial.tries = 0
+            Saver(hand, judge, trial).look_through()
     if trial.partner == ():
         raise TooMany(STEPS)
     return ("parted", trial.partner)

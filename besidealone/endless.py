@@ -22,34 +22,39 @@ class Numbered(Contents):
 
 
 class Endings:
-    """A PART, with all that is known of whether its run ends where its Mover tells that all ends."""
+    """A PART, with all that is known of how many STEPS it takes up to what it does next.
+
+    What it is asked for is (face, given, cells, is_inner), for the call of an export, or (place, cells, got), for what
+    comes behind an import's call.
+    """
 
     def __init__(self, mover):
         self.mover = mover
         self.known = {}
 
-    def is_endless_call(self, face, given, cells, is_inner):
-        """Whether the call of an export goes on without an end."""
-        asked = (face, given, cells, is_inner)
+    def is_endless(self, asked):
+        """Whether a PART, of which its Mover tells that all ends, goes on without an end."""
+        outcome = self.mover.begin(*asked) if len(asked) == 4 else self.mover.resume(*asked)
+        return outcome == EVER and self.steps_for(asked) > MOST
+
+    def steps_for(self, asked):
+        """How many STEPS a PART takes; one more than a Mover looks at if there are more."""
         if asked not in self.known:
-            is_over = self.mover.begin(face, given, cells, is_inner) == EVER
-            body = self.mover.program.bodies[face]
-            self.known[asked] = is_over and self.goes_on(begun(body, given, list(cells), Numbered()), is_inner)
+            if len(asked) == 4:
+                face, given, cells, is_inner = asked
+                frame = begun(self.mover.program.bodies[face], given, list(cells), Numbered())
+                self.known[asked] = self.steps_of(frame, is_inner)
+            else:
+                place, cells, got = asked
+                frame = self.mover.frame_behind(place, cells, got, Numbered())
+                self.known[asked] = 0 if frame is None else self.steps_of(frame, False)
         return self.known[asked]
 
-    def is_endless_behind(self, place, cells, got):
-        """Whether a body goes on so behind an import's call that gives this."""
-        asked = (place, cells, got)
-        if asked not in self.known:
-            is_over = self.mover.resume(place, cells, got) == EVER
-            self.known[asked] = is_over and self.goes_on(self.mover.frame_behind(place, cells, got, Numbered()), False)
-        return self.known[asked]
-
-    def goes_on(self, frame, is_inner):
-        """Whether a body goes on for more STEPS than a Mover looks at."""
+    def steps_of(self, frame, is_inner):
+        """How many STEPS a body takes; the calls of an INNER one FAIL at once."""
         clock = Clock(MOST)
         event = advance(frame, clock)
         while is_inner and event[0] == "call" and catch(frame, self.mover.inner):
             frame.been = {}
             event = advance(frame, clock)
-        return event == ON
+        return MOST + 1 if event == ON else MOST - clock.left

@@ -47,19 +47,22 @@ class Picker:
             gets = [self.choices.follows(sign, outcome) for sign, outcome in zip(signs, outcomes)]
             is_telling = signs[0] != signs[1] or signs[0][0] == "unseen"
             other = 1 - self.which
-            if is_telling and not self.endings[other].is_endless_call(face, couple[other], (), True):
+            if is_telling and not self.endings[other].is_endless((face, couple[other], (), True)):
                 found.setdefault((gets[self.which], WAIT if gets[other] == ANY else gets[other]), (face, couple))
         return found
 
     def options(self, name, has_inner):
         """All that may be picked for an import."""
-        found = []
-        if not has_inner or (ANY, WAIT) not in self.told:
-            found = [(lot[0], ()) for lot in self.sight.narrow[name]]
-        if has_inner:
-            for (got, theirs), call in self.told.items():
-                broad = [(lot[0], call) for lot in self.sight.broad[name]]
-                found.extend(broad if got == ANY else [(got, call)] if got != WAIT else [])
+        plain = [(lot[0], ()) for lot in self.sight.narrow[name]]
+        if not has_inner:
+            return plain
+        # Where an INNER call ends the other PART, and leaves all to the one, it is of no use to go without it.
+        found = [] if (ANY, WAIT) in self.told else plain
+        for (got, theirs), call in self.told.items():
+            if got == ANY:
+                found.extend([(lot[0], call) for lot in self.sight.broad[name]])
+            elif got != WAIT:
+                found.append((got, call))
         return found
 
     def group_of(self, outcome):
@@ -88,7 +91,7 @@ class Picker:
         """The same, if no body goes on for more STEPS than are looked at."""
         mover = self.movers[which]
         outcome = mover.begin(face, couple[which], (), False)
-        if self.endings[which].is_endless_call(face, couple[which], (), False):
+        if self.endings[which].is_endless((face, couple[which], (), False)):
             return ENDLESS
         been = {}
         while outcome[0] == "ask" and self.group_of(outcome) in picks:
@@ -100,7 +103,7 @@ class Picker:
                 return ENDLESS
             been[place] = True
             outcome = mover.resume(place, (), got)
-            if self.endings[which].is_endless_behind(place, (), got):
+            if self.endings[which].is_endless((place, (), got)):
                 return ENDLESS
         return outcome
 

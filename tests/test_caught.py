@@ -186,6 +186,37 @@ class Compared(Case):
                 self.assertEqual(self.told(*given, other), "parted")
                 self.assertEqual(self.told(*given, same), 200000)
 
+    def test_two_exports_and_two_imports(self):
+        kinds = (("num", ("a", "b")), ("truth", ("no", "yes")), ("word", ("bad",)))
+        tells = (("first", ("num",), "truth", ("yes", "no")),)
+        also = ("also", ("num", "truth", ("no", "no")), ("num", "truth", ("yes", "yes")))
+        get = ("get", ("num", "num", ("b", "b")), ("num", "num", ("b", "b")))
+        imports = (("ask", ("truth", "num", ("a", "a")), ("num", "num", ("b", "b"))),
+                   ("tell", ("num", "truth", ("yes", "yes")), ("num", "truth", ("no", "no"))))
+        words = (("bad",), ("bad",), "bad", "bad", "bad")
+        full = (kinds, tells, ("again", "catch", "keep"))
+        names = "\nvar t thing\nvar vnum num\nvar vtruth truth\nvar vword word\n"
+        first = "body also" + names + """try\ncall vnum ask vtruth\ncatch vword\nlet vnum num.b\nend
+            if vtruth\nanswer num.a\nelse\nend\nanswer vnum\nend\nbody get""" + names
+        told = faces(((also, get), imports, words, MODES))
+        one = read_part(full, told, first + """try\ncall vtruth tell num.a\ncatch vword\nlet vtruth truth.yes\nend
+            if vtruth\nanswer vnum\nelse\nend\nmake t num.b\nlook vnum t\nanswer vnum\nend""")
+        other = read_part(full, told, first + """call vtruth tell vnum\ntry\ncall vnum ask vtruth\ncatch vword\nlet vnum num.b\nend
+            make t truth.yes\nlook vtruth t\nanswer num.b\nend""")
+        met = collections.Counter()
+        for modes in itertools.product(("crosses", "stops"), ("live", "tabled"), ("let", "barred"), ("kept",)):
+            table = ((also, get), imports, words, modes)
+            for mine, theirs in itertools.product((("catch",), *POWERS), ((), ("again",), ("catch",), *POWERS)):
+                for where in ("alone", "beside"):
+                    # Both num are ALIKE: so only what FAILS, or doesn't come back, is told apart.
+                    given = (where, (kinds, (), mine), (kinds, (), theirs), table, one, other)
+                    word = self.told(*given)
+                    met[where, word] += 1
+                    if "keep" not in (mine if where == "alone" else theirs) or modes[1] == "tabled":
+                        found = is_parted(given[1], given[2], table, where, one, other, 3, 1500)
+                        self.assertIn(found, (word == "parted", None), given)
+        self.assertEqual(met, {("alone", "parted"): 120, ("beside", "parted"): 120})
+
     def test_lots(self):
         met = collections.Counter()
         for seed in range(80):

@@ -158,6 +158,18 @@ class Compared(unittest.TestCase):
         plain = part(ALONE, "answer bit.i")
         for where in ("alone", "beside"):
             self.assertEqual(self.told(where, side(), side(), ALONE, slow_part, plain), ("TooMany", 200000))
+        # Slow at one raw alone: so there is a row that is as short and takes fewer STEPS.
+        for table, many, steps in ((TABLE, 10, slow * 3), (ALONE, 11, slow)):
+            asking = () if table == ALONE else ("call x ask given",)
+            cells, bodies = counting(table, many)
+            names, statements = part(table, *asking)[1][0]
+            plain = part(table, *asking, "answer bit.i")
+            test = ("if", ("do", "on", (("name", "given"),)), tuple(steps), ())
+            slow_part = (cells, ((names, statements + (test,) + bodies[0][1]),))
+            for where in ("alone", "beside") if table == ALONE else ("beside",):
+                found = compared(side("keep"), side("keep"), table, where, slow_part, plain)
+                self.assertEqual(found[0], "parted")
+                self.assertTrue(parting(side("keep"), side("keep"), table, where, slow_part, plain, found[1], 200000))
 
     def test_an_other_part_without_an_end(self):
         endless = part(ALONE, "while truth.yes", "make t bit.i", "end")
